@@ -13,10 +13,10 @@ const (
 	aggAll   = 2
 )
 
-func kindsOf(terms []term) []int {
+func kindsOf(terms []Term) []int {
 	var kinds []int
 	for _, t := range terms {
-		kinds = append(kinds, t.kind)
+		kinds = append(kinds, t.Kind)
 	}
 	return kinds
 }
@@ -42,7 +42,7 @@ func all(kind int, kinds []int) int {
 }
 
 // kindOf an expression (but a column or an aggregate), by the kinds of its parts and the columns of its query.
-func kindOf(e api.Expr, kinds []int, columns []api.Column) int {
+func kindOf(e api.Expr, kinds []int, columns *List) int {
 	switch e.Op {
 	case api.Lit:
 		return e.Value.Kind
@@ -64,7 +64,7 @@ func kindOf(e api.Expr, kinds []int, columns []api.Column) int {
 }
 
 // testParts: what a test, which is a truth itself, asks of its parts and its query.
-func testParts(e api.Expr, kinds []int, columns []api.Column) {
+func testParts(e api.Expr, kinds []int, columns *List) {
 	switch e.Op {
 	case api.Not, api.And, api.Or:
 		all(api.Bool, kinds)
@@ -81,9 +81,9 @@ func testParts(e api.Expr, kinds []int, columns []api.Column) {
 }
 
 // onlyKind: the kind of the only column that there may be.
-func onlyKind(columns []api.Column) int {
-	refuse(len(columns) != 1, api.ErrForm)
-	return columns[0].Kind
+func onlyKind(columns *List) int {
+	refuse(columns.count != "1", api.ErrForm)
+	return columns.columns[0].kind
 }
 
 // choiceKind: of a CASE.

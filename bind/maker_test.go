@@ -359,6 +359,9 @@ func (m *maker) sourceQuery(s *stage, name string, deep int) api.Select {
 	inner := m.stages
 	m.stages = slices.Clone(m.stages[:len(m.stages)-1])
 	q := m.query(kinds, deep-1)
+	for m.oneIn(4) {
+		q = m.starred(q)
+	}
 	m.stages = inner
 	// What its columns are called is asked of what is tested: if that is wrong, names are.
 	columns, _ := bind.Columns(m.tables, q)
@@ -366,6 +369,29 @@ func (m *maker) sourceQuery(s *stage, name string, deep int) api.Select {
 		s.columns, s.kinds = append(s.columns, api.Expr{Op: api.Col, Table: name, Name: c.Name}), append(s.kinds, c.Kind)
 	}
 	return q
+}
+
+// starred: a query over a query, of which it tells all columns, some of them more than once; and perhaps another one beside it that tells them in another order.
+func (m *maker) starred(q api.Select) api.Select {
+	star := func() api.Item { return api.Item{Star: true, Table: pick(m, "", "", "x")} }
+	c := api.Core{Items: []api.Item{star()}, From: []api.From{{Join: api.Cross, Sub: []api.Select{q}, As: "x"}}}
+	if m.oneIn(3) {
+		c.From = append(c.From, api.From{Join: api.Cross, Table: pick(m, m.tables...).Name, As: "y"})
+	}
+	for m.oneIn(2) {
+		c.Items = append(c.Items, pick(m, star(), star(), api.Item{Expr: m.literal(m.r.Intn(4)), As: pick(m, "", "q", "a")}))
+	}
+	whole := api.Select{Limit: -1, Cores: []api.Core{c}}
+	for m.oneIn(4) {
+		d := c
+		d.Items = slices.Clone(c.Items)
+		m.r.Shuffle(len(d.Items), func(i, j int) { d.Items[i], d.Items[j] = d.Items[j], d.Items[i] })
+		whole.Cores, whole.Ops = append(whole.Cores, d), append(whole.Ops, 1+m.r.Intn(4))
+	}
+	if m.oneIn(4) {
+		whole.Order = []api.Order{{Expr: lit(api.Int, int64(1+m.r.Intn(9)), "")}}
+	}
+	return whole
 }
 
 // statement of any kind, but those that say nothing.
@@ -379,7 +405,11 @@ func (m *maker) statement(deep int) api.Stmt {
 	switch s.Kind {
 	case api.Query:
 		s.Table = ""
-		s.Query = []api.Select{m.query([]int{m.r.Intn(4), m.r.Intn(4), m.r.Intn(4)}[:1+m.r.Intn(3)], deep)}
+		q := m.query([]int{m.r.Intn(4), m.r.Intn(4), m.r.Intn(4)}[:1+m.r.Intn(3)], deep)
+		for m.oneIn(3) {
+			q = m.starred(q)
+		}
+		s.Query = []api.Select{q}
 	case api.Insert:
 		m.insert(&s, t, deep)
 	case api.Update:

@@ -2,54 +2,81 @@ package bind
 
 import (
 	"slices"
-	"strconv"
 
 	"relstore/api"
 )
 
-// maxWide: how many columns the stars of a call may give in all. Only queries that are sources of one another give more, up to more than there is memory for.
-const maxWide = 1 << 22
-
-// binder: what one call knows.
-type binder struct {
-	tables []api.Table
-	wide   int    // how many columns its stars have given so far
-	spoken []term // the columns that were named so far, one behind the other
-}
-
-func newBinder(tables []api.Table) *binder { return &binder{tables: tables} }
-
-// query, and what its ORDER BY says: its columns.
-func (b *binder) query(outer *scope, q api.Select) []api.Column {
+// query, and what its ORDER BY says.
+func (b *binder) query(outer *scope, q api.Select) *Query {
+	before := len(b.spoken)
+	made := &Query{Number: b.queries, Ops: q.Ops, Limit: q.Limit, Offset: q.Offset}
+	b.queries++
 	only := len(q.Cores) == 1
-	first, columns := b.core(outer, q.Cores[0], only && slices.ContainsFunc(q.Order, orderGathers))
+	first, core, columns := b.core(outer, q.Cores[0], only && slices.ContainsFunc(q.Order, orderGathers))
+	core.At = counted(0, len(columns.columns))
+	made.Columns, made.Cores = columns, []Core{core}
 	for _, c := range q.Cores[1:] {
-		_, further := b.core(outer, c, false)
-		refuse(len(further) != len(columns), api.ErrForm)
-		for i := range columns {
-			columns[i].Kind = alike(columns[i].Kind, further[i].Kind)
-		}
+		_, core, columns := b.core(outer, c, false)
+		b.further(made, core, columns)
 	}
 	for _, o := range q.Order {
-		if isColumnOf(columns, o.Expr) {
-			continue
-		}
-		refuse(!only || q.Cores[0].Distinct, api.ErrForm)
-		first.fit(b.behind(first).term(o.Expr))
+		made.Order = append(made.Order, b.order(made, first, o))
 	}
-	return columns
+	made.Cores[0].Aggregates = first.aggregates
+	made.Far = farther(outer, b.spoken[before:])
+	b.spoken = append(b.spoken[:before], made.Far...)
+	return made
 }
 
-// isColumnOf a query: does an expression of ORDER BY tell one of its columns, by its number or its name?
-func isColumnOf(columns []api.Column, e api.Expr) bool {
+// further core of a query, whose columns are held against those of the cores ahead of it.
+func (b *binder) further(q *Query, core Core, columns *List) {
+	refuse(columns.count != q.Columns.count, api.ErrForm)
+	m := b.matched(q.Columns, columns)
+	var ahead []int
+	for _, p := range m.pairs {
+		ahead, core.At = append(ahead, p.first), append(core.At, p.second)
+	}
+	for i, c := range q.Cores {
+		q.Cores[i].At = picked(c.At, ahead)
+	}
+	q.Columns, q.Cores = m.list, append(q.Cores, core)
+}
+
+// farther: those of the columns that were named in a query that are of cores further out, each once.
+func farther(outer *scope, spoken []Term) []Term {
+	var l []Term
+	for _, t := range spoken {
+		if outer != nil && t.Place.Depth <= outer.depth && !slices.ContainsFunc(l, t.sameAs) {
+			l = append(l, t)
+		}
+	}
+	return l
+}
+
+// order of a query: by one of its columns, told by its number or its name; or, over the only core's sources, by a term.
+func (b *binder) order(q *Query, first *scope, o api.Order) Order {
+	column := columnOf(q.Columns, o.Expr)
+	if column >= 0 {
+		return Order{Column: column, Desc: o.Desc}
+	}
+	refuse(len(q.Cores) > 1 || q.Cores[0].Distinct, api.ErrForm)
+	t := b.behind(first).term(o.Expr)
+	first.fit(t)
+	return Order{Column: column, Term: t, Desc: o.Desc}
+}
+
+// columnOf a query: the one that an expression of ORDER BY tells; -1, if it tells none.
+func columnOf(l *List, e api.Expr) int {
 	switch {
 	case e.Op == api.Lit && e.Value.Kind == api.Int:
-		refuse(e.Value.N < 1 || e.Value.N > int64(len(columns)), api.ErrForm)
-		return true
+		refuse(e.Value.N < 1, api.ErrForm)
+		column := l.nth(int(e.Value.N - 1))
+		refuse(column < 0, api.ErrForm)
+		return column
 	case e.Op == api.Col && e.Table == "":
-		return slices.ContainsFunc(columns, func(c api.Column) bool { return c.Name == e.Name })
+		return l.named(e.Name)
 	}
-	return false
+	return -1
 }
 
 // ahead of the groups of a core.
@@ -60,83 +87,46 @@ func (b *binder) behind(c *scope) setting {
 	return setting{binder: b, here: c, queries: true, aggregates: true}
 }
 
-// core of a query: its scope and its columns; ordered: an aggregate stands in its ORDER BY.
-func (b *binder) core(outer *scope, c api.Core, ordered bool) (*scope, []api.Column) {
+// core of a query: its scope, itself, and its columns; ordered: an aggregate stands in its ORDER BY.
+func (b *binder) core(outer *scope, c api.Core, ordered bool) (*scope, Core, *List) {
 	refuse(len(c.From) > api.MaxFrom, api.ErrLarge)
-	s := &scope{outer: outer}
+	s := newScope(outer)
 	ahead, behind := b.ahead(s), b.behind(s)
+	made := Core{Depth: s.depth, Distinct: c.Distinct}
 	for _, f := range c.From {
-		s.add(b.source(outer, f))
-		ahead.truths(f.On)
+		from := s.width
+		x := b.source(s, f)
+		x.Join, x.From, x.To, x.On = f.Join, from, s.width, ahead.truths(f.On)
+		made.Sources = append(made.Sources, x)
 	}
-	ahead.truths(c.Where)
-	s.group(ahead.terms(c.Group))
+	made.Where = ahead.truths(c.Where)
+	made.Group = ahead.terms(c.Group)
+	s.group(made.Group)
 	s.grouped = ordered || len(c.Group) > 0 || len(c.Having) > 0 || slices.ContainsFunc(c.Items, itemGathers)
-	columns := behind.items(c.Items)
-	for _, t := range behind.truths(c.Having) {
+	made.Grouped = s.grouped
+	items, columns := behind.items(c.Items)
+	made.Items = items
+	made.Having = behind.truths(c.Having)
+	for _, t := range made.Having {
 		s.fit(t)
 	}
-	return s, columns
+	made.Aggregates = s.aggregates
+	return s, made, columns
 }
 
-// source of a core: a table, or a query, which sees just what is further out.
-func (b *binder) source(outer *scope, f api.From) source {
+// source of a core, a table or a query, comes to its scope. A query sees just what is further out.
+func (b *binder) source(s *scope, f api.From) Source {
 	if len(f.Sub) > 0 {
-		return querySource(f.As, b.query(outer, f.Sub[0]))
+		q := b.query(s.outer, f.Sub[0])
+		s.add(f.As, q.Columns)
+		return Source{Query: q}
 	}
-	columns := b.table(f.Table).Columns
-	if f.As != "" {
-		return tableSource(f.As, columns)
+	n := tableNumber(b.tables, f.Table)
+	refuse(n < 0, api.ErrMissing)
+	name := f.As
+	if name == "" {
+		name = f.Table
 	}
-	return tableSource(f.Table, columns)
-}
-
-// items of a core: its columns.
-func (x setting) items(items []api.Item) []api.Column {
-	var l []api.Column
-	for _, i := range items {
-		if i.Star {
-			l = append(l, x.star(i.Table)...)
-			continue
-		}
-		t := x.term(i.Expr)
-		x.here.fit(t)
-		l = append(l, api.Column{Name: itemName(i, len(l)+1), Kind: t.kind})
-	}
-	return l
-}
-
-// itemName: the name of the column that an item is; number: which one it is.
-func itemName(i api.Item, number int) string {
-	switch {
-	case i.As != "":
-		return i.As
-	case i.Expr.Op == api.Col:
-		return i.Expr.Name
-	}
-	return "column" + strconv.Itoa(number)
-}
-
-// star: all columns of the source of this name; of all sources, if there is no name.
-func (x setting) star(name string) []api.Column {
-	refuse(name == "" && len(x.here.sources) == 0, api.ErrForm)
-	refuse(name != "" && !x.here.has(name), api.ErrName)
-	var l []api.Column
-	for _, s := range x.here.sources {
-		if name != "" && name != s.name {
-			continue
-		}
-		x.widen(len(s.columns))
-		for _, c := range s.columns {
-			refuse(x.here.grouped && !c.grouped, api.ErrForm)
-			l = append(l, api.Column{Name: c.name, Kind: c.kind})
-		}
-	}
-	return l
-}
-
-// widen: a star gives so many columns more.
-func (b *binder) widen(more int) {
-	b.wide += more
-	refuse(b.wide > maxWide, api.ErrLarge)
+	s.add(name, b.tableList(b.tables[n].Columns))
+	return Source{Table: n}
 }

@@ -2,6 +2,7 @@ package bind
 
 import (
 	"slices"
+	"strconv"
 
 	"relstore/api"
 )
@@ -50,7 +51,9 @@ func (b *binder) hasIndex(name string) bool {
 
 // among the columns of a table.
 func (b *binder) among(t api.Table) setting {
-	return b.ahead(&scope{sources: []source{tableSource(t.Name, t.Columns)}})
+	s := newScope(nil)
+	s.add(t.Name, b.tableList(t.Columns))
+	return b.ahead(s)
 }
 
 // columnNumbers: which columns these names tell, each of them once.
@@ -73,17 +76,17 @@ func columnNumber(columns []api.ColumnDef, name string) int {
 func (b *binder) insert(s api.Stmt) {
 	kinds := insertedKinds(b.table(s.Table), s.Names)
 	for _, q := range s.Query {
-		columns := b.query(nil, q)
-		refuse(len(columns) != len(kinds), api.ErrForm)
-		for i, c := range columns {
-			alike(kinds[i], c.Kind)
+		columns := b.query(nil, q).Columns
+		refuse(columns.count != strconv.Itoa(len(kinds)), api.ErrForm)
+		for i, kind := range kinds {
+			alike(kind, columns.columns[columns.nth(i)].kind)
 		}
 	}
-	alone := b.ahead(&scope{})
+	alone := b.ahead(newScope(nil))
 	for _, row := range s.Rows {
 		refuse(len(row) != len(kinds), api.ErrForm)
 		for i, e := range row {
-			alike(kinds[i], alone.term(e).kind)
+			alike(kinds[i], alone.term(e).Kind)
 		}
 	}
 }
@@ -112,7 +115,7 @@ func (b *binder) update(s api.Stmt) {
 	numbers := columnNumbers(t.Columns, names)
 	row := b.among(t)
 	for i, x := range s.Sets {
-		alike(t.Columns[numbers[i]].Kind, row.term(x.Expr).kind)
+		alike(t.Columns[numbers[i]].Kind, row.term(x.Expr).Kind)
 	}
 	row.truths(s.Where)
 }

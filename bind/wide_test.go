@@ -1,0 +1,107 @@
+package bind_test
+
+import (
+	"math/big"
+	"strings"
+	"testing"
+
+	"relstore/api"
+	"relstore/bind"
+	"relstore/sql"
+)
+
+// wide: a query within others, each of which tells all columns of its source so many times.
+func wide(stars, deep int) string {
+	all := strings.TrimSuffix(run("*,", stars), ",")
+	return run("select "+all+" from (", deep) + "select a from t" + run(") x", deep)
+}
+
+// aside: an expression over two cores whose wide parts stand behind another column.
+func aside(expr string) string {
+	core := "select 'z' as z, * from (select *, 7 as q from (" + wide(2, 40) + ") x) y"
+	return "select " + expr + " from (" + core + " union " + core + ") w"
+}
+
+// power of a number, in digits; and more.
+func power(n, of, more int64) string {
+	p := new(big.Int).Exp(big.NewInt(n), big.NewInt(of), nil)
+	return p.Add(p, big.NewInt(more)).String()
+}
+
+// P17: `*` is all columns, however many these are.
+func TestWideColumns(t *testing.T) {
+	tables := made(t, schema)
+	for _, x := range [][2]int{{2, 1}, {2, 5}, {2, 14}, {2, 20}, {3, 12}, {7, 6}, {1, 57}, {9000, 1}} {
+		l, e := bind.Columns(tables, one(t, wide(x[0], x[1])).Query[0])
+		want := new(big.Int).Exp(big.NewInt(int64(x[0])), big.NewInt(int64(x[1])), nil)
+		if e != api.OK || int64(len(l)) != want.Int64() {
+			t.Fatal(x, len(l), e)
+		}
+		for i, c := range l {
+			if c != (api.Column{Name: "a", Kind: api.Int}) {
+				t.Fatal(x, i, c)
+			}
+		}
+	}
+	expectColumns(t, tables, "select *, x.*, 1, y.*, * from (select *, 'x' as s, * from (select a, d from t) x) x, (select g from v) y", columns("a:i d:b s:t a:i d:b g:i a:i d:b s:t a:i d:b column12:i g:i a:i d:b s:t a:i d:b g:i")...)
+	expectColumns(t, tables, "select *, * from (select a, d from t) x union select null, null, y.* from (select b, d from t) y", columns("a:i d:b a:i d:b")...)
+	expectColumns(t, tables, "select *, * from (select a, null as n from t) x union select *, 'x', y.b, true from (select b from t) y", columns("a:i n:t a:i n:b")...)
+}
+
+// P17: queries with more columns than could ever be written out mean something, too; just Columns has no memory for them.
+func TestEndlessColumns(t *testing.T) {
+	tables := made(t, schema)
+	far := "column" + power(3, 50, 1)
+	for _, x := range []told{
+		{wide(2, 28), api.OK}, {wide(2, 57), api.OK}, {wide(3, 50), api.OK}, {wide(150, 57), api.OK},
+		{"select 1 from (" + wide(2, 50) + ") y", api.OK}, {"select exists (" + wide(2, 50) + ")", api.OK}, {"select y.* from (" + wide(2, 50) + ") y, t", api.OK}, {"select 1 in (" + wide(2, 50) + ")", api.ErrForm}, {"select (" + wide(2, 50) + ")", api.ErrForm}, {"select (" + wide(1, 50) + ")", api.OK}, {"insert into t " + wide(2, 50), api.ErrForm}, {"insert into t (a, b) " + wide(2, 1), api.OK}, {"insert into t (a, c) " + wide(2, 1), api.ErrType},
+		// None of them has a name of its own.
+		{"select a from (" + wide(2, 50) + ") y", api.ErrName}, {"select a from (" + wide(1, 50) + ") y", api.OK}, {"select y.a from (" + wide(2, 50) + ") y", api.ErrName}, {"select b from (" + wide(2, 50) + ") y, (select 1 as b) z", api.OK}, {"select 1 from (" + wide(2, 50) + ") y group by a", api.ErrName}, {"select * from (" + wide(2, 50) + ") y group by 1", api.ErrForm}, {"select *, * from (" + wide(1, 50) + ") y group by a", api.OK}, {"select *, * from (" + wide(1, 50) + ") y, u group by y.a", api.ErrForm}, {"select * from (" + wide(2, 50) + ") y group by column1", api.ErrName},
+		{wide(2, 50) + " order by 1, 9223372036854775807", api.ErrForm}, {wide(2, 50) + " order by " + power(2, 50, 0), api.OK}, {wide(2, 50) + " order by " + power(2, 50, 1), api.ErrForm}, {wide(3, 50) + " order by 9223372036854775807", api.OK}, {wide(2, 50) + " order by a", api.OK}, {wide(2, 50) + " order by t.a", api.ErrName},
+		// How many there are is told by the names of those behind them.
+		{"select column" + power(2, 50, 1) + " from (select *, 1 from (" + wide(2, 50) + ") y) z", api.OK}, {"select column" + power(2, 50, 0) + " from (select *, 1 from (" + wide(2, 50) + ") y) z", api.ErrName}, {"select " + far + " from (select *, 1 from (" + wide(3, 50) + ") y) z", api.OK}, {"select " + far + " || 'x' from (select *, 1 from (" + wide(3, 50) + ") y) z", api.ErrType}, {"select " + far + " from (select *, 1, * from (" + wide(3, 50) + ") y) z", api.OK}, {"select " + far + " from (select *, * from (select *, 1 from (" + wide(3, 50) + ") y) z) w", api.ErrName},
+		// Several cores.
+		{wide(2, 50) + " union " + wide(2, 50), api.OK}, {wide(2, 50) + " union " + wide(2, 49), api.ErrForm}, {wide(4, 25) + " union " + wide(2, 50) + " union all " + wide(2, 50), api.OK}, {wide(3, 50) + " union select *, 1 from (" + wide(3, 50) + ") y", api.ErrForm}, {strings.ReplaceAll(wide(2, 50), "a from", "null from") + " union " + wide(2, 50), api.OK}, {strings.ReplaceAll(wide(2, 50), "a from", "c from") + " union " + wide(2, 50), api.ErrType}, {strings.ReplaceAll(wide(2, 50), "a from", "null from") + " union " + wide(2, 50) + " union " + strings.ReplaceAll(wide(2, 50), "a from", "c from"), api.ErrType},
+		// Parts of one core stand to those of another one elsewhere than in the whole list.
+		{"select a from (" + wide(2, 50) + " union " + wide(2, 50) + ") y", api.ErrName}, {"select a from (select *, 1 as z from (" + wide(2, 50) + ") x union select *, 1 from (" + wide(2, 50) + ") x) y", api.ErrName}, {"select z + 1 from (select *, 1 as z from (" + wide(2, 50) + ") x union select *, 1 from (" + wide(2, 50) + ") x) y", api.OK}, {aside("q + 1"), api.OK}, {aside("q || 'x'"), api.ErrType}, {aside("z || 'x'"), api.OK}, {aside("z + 1"), api.ErrType}, {aside("a"), api.ErrName},
+		{"select *, 1 from (" + wide(2, 20) + ") y union select 1, * from (" + wide(2, 20) + ") y", api.OK}, {"select *, 1 from (" + wide(2, 20) + ") y union select 'x', * from (" + wide(2, 20) + ") y", api.ErrType}, {"select *, 'x' from (" + wide(2, 20) + ") y union select 1, * from (" + wide(2, 20) + ") y", api.ErrType}, {"select 1 from (select *, 1 from (" + wide(2, 20) + ") y union select 1, * from (" + wide(2, 20) + ") y) z where a", api.ErrName},
+	} {
+		s := one(t, x.text)
+		if e := bind.Check(tables, s); e != x.want {
+			t.Errorf("%.60s .. %s: %v, not %v", x.text, x.text[max(0, len(x.text)-40):], e, x.want)
+		}
+	}
+	for _, text := range []string{wide(2, 28), wide(2, 57), wide(3, 50), "select * from (" + wide(2, 50) + " union " + wide(2, 50) + ") x", "select *, 1 from (" + wide(2, 40) + ") x"} {
+		if l, e := bind.Columns(tables, one(t, text).Query[0]); len(l) > 0 || e != api.ErrLarge {
+			t.Errorf("%.60s: %d columns, %v", text, len(l), e)
+		}
+	}
+}
+
+// P1: long lists of columns of which no two parts begin at the same places end, too.
+func TestEndlessMatch(t *testing.T) {
+	tables := made(t, schema)
+	text := "select *, 1 from (" + wide(2, 50) + ") y union select 1, * from (" + wide(2, 50) + ") y"
+	if e := bind.Check(tables, one(t, text)); e != api.ErrLarge {
+		t.Error(e)
+	}
+}
+
+// P17: the columns of unions of stars that are longer than a short list, held against the model.
+func TestLongUnions(t *testing.T) {
+	tables := made(t, schema)
+	for _, x := range [][2]string{
+		{wide(2, 13), wide(2, 13)}, {wide(2, 12), wide(4, 6)}, {wide(8, 4), wide(2, 12)}, {wide(12, 3), wide(1728, 1)},
+		{"select *, 1 as q from (" + wide(2, 12) + ") y", "select 1, * from (" + wide(2, 12) + ") y"},
+		{"select 1, *, *, null from (" + wide(2, 11) + ") y", "select *, null, 1 from (" + wide(2, 12) + ") y"},
+		{"select *, * from (select *, 1 as q from (" + wide(2, 11) + ") y) z", "select *, *, 1, 2 from (" + wide(2, 11) + ") y"},
+		{"select *, * from (select null as n, * from (" + wide(3, 7) + ") y, u) z", "select *, * from (select *, e as q from (" + wide(3, 7) + ") y, (select a, b, e, f from t, u where t.a = u.a) w) z"},
+	} {
+		for _, form := range []string{"$ union $", "select 1 from ($ union $) w where q is null", "select *, * from ($ except $) w"} {
+			s := one(t, fill(form, x[0], x[1]))
+			if e := held(t, tables, s); t.Failed() {
+				t.Fatalf("%.80s: %v", sql.Print(s), e)
+			}
+		}
+	}
+}
