@@ -23,22 +23,23 @@ func (x setting) items(items []api.Item) ([]Term, *List) {
 		}
 		t := x.term(i.Expr)
 		x.here.fit(t)
-		l.list.add(itemName(i, plus(l.list.count, "1")), t.Kind)
+		number := l.list.count.plus(sizeOf(1))
+		l.list.addAll(x.single(itemName(i, number), t.Kind))
 		l.terms = append(l.terms, t)
 	}
 	l.list.settle()
 	return l.terms, l.list
 }
 
-// itemName: the name of the column that an item is; number: which one it is, in digits.
-func itemName(i api.Item, number string) string {
+// itemName: the name of the column that an item is; number: which one it is.
+func itemName(i api.Item, number size) string {
 	switch {
 	case i.As != "":
 		return i.As
 	case i.Expr.Op == api.Col:
 		return i.Expr.Name
 	}
-	return "column" + number
+	return "column" + number.digits()
 }
 
 // star: all columns of the source of this name; of all sources, if there is no name.

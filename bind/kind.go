@@ -82,7 +82,7 @@ func testParts(e api.Expr, kinds []int, columns *List) {
 
 // onlyKind: the kind of the only column that there may be.
 func onlyKind(columns *List) int {
-	refuse(columns.count != "1", api.ErrForm)
+	refuse(columns.count != sizeOf(1), api.ErrForm)
 	return columns.columns[0].kind
 }
 

@@ -1,22 +1,19 @@
 package bind
 
-import (
-	"math"
-	"strconv"
-
-	"relstore/api"
-)
+import "relstore/api"
 
 // maxWide: how many columns are written out at most, all rows together: there would be no memory for more.
 const maxWide = 1 << 27
 
-// List of columns. Each star of a query that is a source of another one may double its columns, up to more than there is memory for: so a list has those just once that are one and the same, in the order in which they first come, and tells in parts how all of them stand.
+// List of columns. Each star of a query that is a source of another one may double its columns, up to more than there is memory for: so a list has those just once that are one and the same, in the order in which they first come, and tells how all of them stand: one by one; in parts, which are lists; or as another list that comes again and again.
 type List struct {
 	number  int // among the lists of a call
 	columns []column
-	parts   []part // none: each column comes once
+	count   size   // of all
+	word    []int  // which columns they are, one by one
+	parts   []part // of what it is made
 	order   []int  // the parts' numbers, one behind the other
-	count   string // how many columns there are in all, in digits
+	base    *List  // what comes again and again: it has the same columns
 }
 
 // column of a list.
@@ -26,7 +23,7 @@ type column struct {
 	many bool // it comes more than once, so that no name tells it
 }
 
-// part of a list: some of its columns, one behind the other; or all columns of another list, and which ones of this list they are.
+// part of a list: another one, and which columns of the list those of it are.
 type part struct {
 	of *List
 	at []int
@@ -35,7 +32,7 @@ type part struct {
 // newList without columns.
 func (b *binder) newList() *List {
 	b.lists++
-	return &List{number: b.lists, count: "0"}
+	return &List{number: b.lists}
 }
 
 // tableList: the columns of a table.
@@ -44,37 +41,35 @@ func (b *binder) tableList(columns []api.ColumnDef) *List {
 	for _, c := range columns {
 		l.columns = append(l.columns, column{name: c.Name, kind: c.Kind})
 	}
-	l.count = strconv.Itoa(len(columns))
+	l.count = sizeOf(len(columns))
+	l.settle()
 	return l
 }
 
-// add one more column.
-func (l *List) add(name string, kind int) {
-	at := len(l.columns)
-	l.columns = append(l.columns, column{name: name, kind: kind})
-	l.count = plus(l.count, "1")
-	l.addPart(part{at: []int{at}})
+// single column: a list.
+func (b *binder) single(name string, kind int) *List {
+	return b.tableList([]api.ColumnDef{{Name: name, Kind: kind}})
 }
 
 // addAll columns of another list, which has none of this one's: the number of the part that they are.
 func (l *List) addAll(m *List) int {
-	p := part{of: m, at: counted(len(l.columns), len(m.columns))}
+	p := part{m, counted(len(l.columns), len(m.columns))}
 	l.columns = append(l.columns, m.columns...)
-	l.count = plus(l.count, m.count)
-	l.addPart(p)
+	return l.addPart(p)
+}
+
+// addPart behind the others: its number.
+func (l *List) addPart(p part) int {
+	l.count = l.count.plus(p.of.count)
+	l.order = append(l.order, len(l.parts))
+	l.parts = append(l.parts, p)
 	return len(l.parts) - 1
 }
 
-// addPart behind the others.
-func (l *List) addPart(p part) {
-	l.order = append(l.order, len(l.parts))
-	l.parts = append(l.parts, p)
-}
-
-// again: a part that is another list comes once more.
+// again: a part comes once more.
 func (l *List) again(number int) {
 	l.order = append(l.order, number)
-	l.count = plus(l.count, l.parts[number].of.count)
+	l.count = l.count.plus(l.parts[number].of.count)
 	for _, at := range l.parts[number].at {
 		l.columns[at].many = true
 	}
@@ -89,18 +84,22 @@ func counted(from, count int) []int {
 	return l
 }
 
-// size of a part: how many columns it has.
-func (p part) size() int {
-	if p.of != nil {
-		return small(p.of.count)
+// settle a list that is whole: how its columns stand is told in the plainest way.
+func (l *List) settle() {
+	switch {
+	case l.count == sizeOf(len(l.columns)):
+		l.word, l.parts, l.order = counted(0, len(l.columns)), nil, nil
+	case len(l.parts) == 1:
+		l.repeat(l.parts[0].of)
+		l.parts, l.order = nil, nil
 	}
-	return len(p.at)
 }
 
-// settle a list that is whole: if each column comes once, no part has to tell how they stand.
-func (l *List) settle() {
-	if l.count == strconv.Itoa(len(l.columns)) {
-		l.parts, l.order = nil, nil
+// repeat another list, which has the same columns.
+func (l *List) repeat(m *List) {
+	l.base = m
+	if m.base != nil {
+		l.base = m.base
 	}
 }
 
@@ -116,30 +115,21 @@ func (l *List) named(name string) int {
 
 // nth column of all, from 0 on; -1, if there are not so many.
 func (l *List) nth(n int) int {
-	if len(l.parts) == 0 && n < len(l.columns) {
-		return n
+	if n >= l.count.small() {
+		return -1
+	}
+	if l.base != nil {
+		return l.base.nth(n % l.base.count.small())
 	}
 	for _, number := range l.order {
 		p := l.parts[number]
-		switch {
-		case n >= p.size():
-			n -= p.size()
-		case p.of == nil:
-			return p.at[n]
-		default:
-			return p.at[p.of.nth(n)]
+		if many := p.of.count.small(); n >= many {
+			n -= many
+			continue
 		}
+		return p.at[p.of.nth(n)]
 	}
-	return -1
-}
-
-// small: a number in digits, or the greatest one that can be counted with.
-func small(digits string) int {
-	n, err := strconv.Atoi(digits)
-	if err != nil {
-		return math.MaxInt
-	}
-	return n
+	return l.word[n]
 }
 
 // Written: all columns of a list, one by one. ErrLarge, if there would be no memory for them.
@@ -157,10 +147,10 @@ func (l *List) Written() ([]api.Column, api.Errno) {
 
 // Spread: of rows that have something of each column just once that is not the same as another one: rows with what there is of all columns. ErrLarge, if there would be no memory for them.
 func Spread[T any](l *List, rows [][]T) ([][]T, api.Errno) {
-	if len(l.parts) == 0 {
+	n := l.count.small()
+	if n == len(l.columns) {
 		return rows, api.OK
 	}
-	n := small(l.count)
 	if n > maxWide/max(len(rows), 1) {
 		return nil, api.ErrLarge
 	}
@@ -172,8 +162,14 @@ func Spread[T any](l *List, rows [][]T) ([][]T, api.Errno) {
 }
 
 func spread[T any](out []T, l *List, each []T) []T {
-	if len(l.parts) == 0 {
-		return append(out, each...)
+	from := len(out)
+	if l.base != nil {
+		out = spread(out, l.base, each)
+		one := out[from:]
+		for len(out)-from < l.count.small() {
+			out = append(out, one...)
+		}
+		return out
 	}
 	written := make([][2]int, len(l.parts)) // from where to where in out
 	for _, number := range l.order {
@@ -181,16 +177,11 @@ func spread[T any](out []T, l *List, each []T) []T {
 			out = append(out, out[w[0]:w[1]]...)
 			continue
 		}
-		p, from := l.parts[number], len(out)
-		some := picked(each, p.at)
-		if p.of == nil {
-			out = append(out, some...)
-		} else {
-			out = spread(out, p.of, some)
-		}
-		written[number] = [2]int{from, len(out)}
+		p, begin := l.parts[number], len(out)
+		out = spread(out, p.of, picked(each, p.at))
+		written[number] = [2]int{begin, len(out)}
 	}
-	return out
+	return append(out, picked(each, l.word)...)
 }
 
 // picked: those of a list that stand at these places.

@@ -6,16 +6,16 @@ import (
 	"relstore/api"
 )
 
-// maxPairs: how many columns of a call's lists are matched one by one at most. Long lists whose parts begin at the same places are matched part by part; others cannot be, and may have more columns than could ever be looked at.
+// maxPairs: how many columns of a call's lists are matched one by one at most. Long lists that are made alike, or that come again and again, are matched part by part; others may have more columns than could ever be looked at.
 const maxPairs = 1 << 25
 
-// shortList: a list of so many columns is matched column by column, wherever its parts begin.
-const shortList = 1 << 10
+// shortList: so many columns are matched one by one, however they stand in their lists.
+const shortList = 1 << 8
 
 // pair of columns that stand at the same place in two lists.
 type pair struct{ first, second int }
 
-// match of two lists: a list of pairs.
+// match of stretches of two lists: a list of pairs.
 type match struct {
 	list          *List
 	first, second *List
@@ -23,69 +23,116 @@ type match struct {
 	numbers       map[pair]int
 }
 
+// sides of a match: which stretches it is of.
+type sides struct {
+	first, second side
+	count         size
+}
+
+// side: a stretch, by its list's number.
+type side struct {
+	list  int
+	from  size
+	round bool
+}
+
 // matched: two lists that have as many columns, place by place.
 func (b *binder) matched(first, second *List) *match {
-	lists := pair{first.number, second.number}
-	if m := b.matches[lists]; m != nil {
-		return m
-	}
-	m := &match{list: b.newList(), first: first, second: second, numbers: map[pair]int{}}
-	left, right := first.pending(counted(0, len(first.columns))), second.pending(counted(0, len(second.columns)))
-	for len(left) > 0 {
-		x, y := top(&left), top(&right)
-		switch {
-		case x.of != nil && y.of != nil && x.of.count == y.of.count:
-			m.addMatch(b.matched(x.of, y.of), x.at, y.at)
-		case x.of != nil && (y.of == nil || above(x.of.count, y.of.count)):
-			left, right = append(left, x.of.pending(x.at)...), append(right, y)
-		case y.of != nil:
-			left, right = append(left, x), append(right, y.of.pending(y.at)...)
-		default:
-			n := min(len(x.at), len(y.at))
-			b.pairs += n
-			refuse(b.pairs > maxPairs, api.ErrLarge)
-			m.addPairs(x.at[:n], y.at[:n])
-			left, right = leave(left, x.at[n:]), leave(right, y.at[n:])
-		}
-	}
-	m.list.count = first.count
+	m := b.newMatch(first, second)
+	b.addStretches(m, stretchOf(first, size{}, first.count), stretchOf(second, size{}, first.count), first.count)
 	m.list.settle()
-	b.matches[lists] = m
 	return m
 }
 
-// top of a stack of parts, which is taken off.
-func top(l *[]part) part {
-	p := (*l)[len(*l)-1]
-	*l = (*l)[:len(*l)-1]
-	return p
+func (b *binder) newMatch(first, second *List) *match {
+	return &match{list: b.newList(), first: first, second: second, numbers: map[pair]int{}}
 }
 
-// leave what is left of a part on its stack.
-func leave(l []part, at []int) []part {
-	if len(at) == 0 {
-		return l
-	}
-	return append(l, part{at: at})
+// addStretches of the lists of a match to it, side by side.
+func (b *binder) addStretches(m *match, x, y stretch, count size) {
+	b.addMatch(m, b.stretched(x, y, count), x.at, y.at)
 }
 
-// pending: the parts of a list whose columns are these ones of another one, the last one first.
-func (l *List) pending(at []int) []part {
-	if len(l.parts) == 0 {
-		return []part{{at: at}}
+// stretched: stretches of two lists, place by place.
+func (b *binder) stretched(x, y stretch, count size) *match {
+	key := sides{x.side(), y.side(), count}
+	if m := b.matches[key]; m != nil {
+		return m
 	}
-	parts := make([]part, len(l.parts))
-	for i, p := range l.parts {
-		parts[i] = part{p.of, picked(at, p.at)}
-		if p.of != nil && small(p.of.count) <= shortList {
-			parts[i] = part{at: spread(nil, p.of, parts[i].at)}
-		}
+	m := b.newMatch(x.list, y.list)
+	period, known := size{}, false
+	if x.round && y.round {
+		period, known = x.list.count.period(y.list.count)
 	}
-	stack := make([]part, 0, len(l.order))
-	for _, number := range slices.Backward(l.order) {
-		stack = append(stack, parts[number])
+	switch {
+	case count.below(sizeOf(shortList)) || x.isWord() || y.isWord():
+		b.addPairs(m, x.letters(count.small()), y.letters(count.small()))
+	case known && period.below(count):
+		b.addPeriods(m, x, y, count, period)
+	default:
+		b.addPieces(m, x, y, count, b.cuts(x, y, count))
 	}
-	return stack
+	m.list.settle()
+	m.numbers = nil
+	b.matches[key] = m
+	return m
+}
+
+// spend: so much more is matched.
+func (b *binder) spend(count int) {
+	refuse(count > maxPairs-b.pairs, api.ErrLarge)
+	b.pairs += count
+}
+
+// cuts of two stretches: where parts of them begin. If one comes again and again, those of the other one will do; if both do, those of the longer list.
+func (b *binder) cuts(x, y stretch, count size) []size {
+	switch {
+	case x.round && (!y.round || x.list.count.below(y.list.count)):
+		return b.cutsOf(y, count)
+	case y.round:
+		return b.cutsOf(x, count)
+	}
+	l := append(b.cutsOf(x, count), b.cutsOf(y, count)...)
+	slices.SortFunc(l, size.compare)
+	return slices.Compact(l)
+}
+
+// cutsOf a stretch, if they are not too many.
+func (b *binder) cutsOf(s stretch, count size) []size {
+	if s.round {
+		often, _ := count.over(s.list.count)
+		b.spend(often.small())
+	} else {
+		b.spend(len(s.list.order))
+	}
+	return s.cuts(count)
+}
+
+// addPieces of two stretches, from cut to cut.
+func (b *binder) addPieces(m *match, x, y stretch, count size, cuts []size) {
+	from := size{}
+	for _, to := range append(cuts, count) {
+		some := to.minus(from)
+		b.addStretches(m, x.rest(from, some), y.rest(from, some), some)
+		from = to
+	}
+}
+
+// addPeriods of two stretches that both come again and again.
+func (b *binder) addPeriods(m *match, x, y stretch, count, period size) {
+	_, left := count.over(period)
+	u, v := x.rest(size{}, period), y.rest(size{}, period)
+	one := b.stretched(u, v, period)
+	all := &match{list: b.newList(), first: one.first, second: one.second, pairs: one.pairs}
+	all.list.columns, all.list.count = slices.Clone(one.list.columns), count.minus(left)
+	all.list.repeat(one.list)
+	for i := range all.list.columns {
+		all.list.columns[i].many = all.list.columns[i].many || all.list.count != period
+	}
+	b.addMatch(m, all, u.at, v.at)
+	if left != (size{}) {
+		b.addStretches(m, x.rest(size{}, left), y.rest(size{}, left), left)
+	}
 }
 
 // number of a pair, which may be a new one: a column of the list.
@@ -103,26 +150,23 @@ func (m *match) number(p pair) int {
 	return n
 }
 
-// addPairs of columns, one behind the other. They go on with the part ahead of them, if that is one of pairs, too: a long list must not have a part for each of them.
-func (m *match) addPairs(first, second []int) {
-	l := m.list
-	last := len(l.parts) - 1
-	if last < 0 || l.parts[last].of != nil {
-		l.addPart(part{})
-		last++
-	}
+// addPairs of columns, one by one: they are all of the list.
+func (b *binder) addPairs(m *match, first, second []int) {
+	b.spend(len(first))
 	for i := range first {
-		l.parts[last].at = append(l.parts[last].at, m.number(pair{first[i], second[i]}))
+		m.list.word = append(m.list.word, m.number(pair{first[i], second[i]}))
 	}
+	m.list.count = sizeOf(len(first))
 }
 
 // addMatch of two parts, whose columns are these ones.
-func (m *match) addMatch(of *match, first, second []int) {
+func (b *binder) addMatch(m, of *match, first, second []int) {
+	b.spend(1 + len(of.pairs))
 	at := make([]int, len(of.pairs))
 	for i, p := range of.pairs {
 		at[i] = m.number(pair{first[p.first], second[p.second]})
 		many := of.list.columns[i].many
 		m.list.columns[at[i]].many = many || m.list.columns[at[i]].many
 	}
-	m.list.addPart(part{of: of.list, at: at})
+	m.list.addPart(part{of.list, at})
 }

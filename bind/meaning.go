@@ -67,7 +67,11 @@ type Term struct {
 
 // Resolve: what a query means, or why it means nothing.
 func Resolve(tables []api.Table, q api.Select) (*Query, api.Errno) {
+	return resolve(newBinder(tables, true), q)
+}
+
+func resolve(b *binder, q api.Select) (*Query, api.Errno) {
 	var made *Query
-	e := caught(func() { made = newBinder(tables).query(nil, q) })
+	e := caught(func() { made = b.query(nil, q) })
 	return made, e
 }

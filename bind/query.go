@@ -31,6 +31,10 @@ func (b *binder) query(outer *scope, q api.Select) *Query {
 // further core of a query, whose columns are held against those of the cores ahead of it.
 func (b *binder) further(q *Query, core Core, columns *List) {
 	refuse(columns.count != q.Columns.count, api.ErrForm)
+	if !b.places {
+		q.Columns, q.Cores = b.matched(q.Columns, b.kindsFor(q.Columns, columns)).list, append(q.Cores, core)
+		return
+	}
 	m := b.matched(q.Columns, columns)
 	var ahead []int
 	for _, p := range m.pairs {

@@ -2,7 +2,6 @@ package bind
 
 import (
 	"slices"
-	"strconv"
 
 	"relstore/api"
 )
@@ -77,7 +76,7 @@ func (b *binder) insert(s api.Stmt) {
 	kinds := insertedKinds(b.table(s.Table), s.Names)
 	for _, q := range s.Query {
 		columns := b.query(nil, q).Columns
-		refuse(columns.count != strconv.Itoa(len(kinds)), api.ErrForm)
+		refuse(columns.count != sizeOf(len(kinds)), api.ErrForm)
 		for i, kind := range kinds {
 			alike(kind, columns.columns[columns.nth(i)].kind)
 		}

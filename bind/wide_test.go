@@ -78,12 +78,78 @@ func TestEndlessColumns(t *testing.T) {
 	}
 }
 
-// P1: long lists of columns of which no two parts begin at the same places end, too.
-func TestEndlessMatch(t *testing.T) {
+// within: a query of these items over a query.
+func within(items, query string) string { return "select " + items + " from (" + query + ") x" }
+
+// nested: a query of these items over another one of them, and so on, so many times, over a query.
+func nested(items string, deep int, query string) string {
+	for range deep {
+		query = within(items, query)
+	}
+	return query
+}
+
+// P17: cores of as many columns, whose stars do not begin at the same places.
+func TestShiftedCores(t *testing.T) {
 	tables := made(t, schema)
-	text := "select *, 1 from (" + wide(2, 50) + ") y union select 1, * from (" + wide(2, 50) + ") y"
-	if e := bind.Check(tables, one(t, text)); e != api.ErrLarge {
-		t.Error(e)
+	ints := wide(2, 20)
+	ruler := nested("*, 'x', *", 25, ints)
+	for _, x := range []struct {
+		first, second string
+		want          api.Errno
+	}{
+		{within("*, 1", wide(2, 50)), within("1, *", wide(2, 50)), api.OK},
+		{within("*, 'x'", wide(2, 50)), within("1, *", wide(2, 50)), api.ErrType},
+		{within("*, 1", wide(2, 50)), within("'x', *", wide(2, 50)), api.ErrType},
+		{within("*, *, 1", wide(2, 56)), within("1, *, *", wide(2, 56)), api.OK},
+		{within("*, *, 'x'", wide(2, 56)), within("1, *, *", wide(2, 56)), api.ErrType},
+		{within("*, 1, 2, null", wide(60, 55)), within("true, *, null, 1", wide(60, 55)), api.ErrType},
+		{within("*, 1, 2, null", wide(60, 55)), within("null, *, null, 1", wide(60, 55)), api.OK},
+		// The same numbers of stars, in another order.
+		{nested("*, *", 20, nested("*, *, *", 20, "select a from t")), nested("*, *, *", 20, nested("*, *", 20, "select a from t")), api.OK},
+		{nested("*, *", 20, nested("*, *, *", 20, "select a, c, b from t")), nested("*, *, *", 20, nested("*, *", 20, "select b, c, a from t")), api.OK},
+		{nested("*, *", 20, nested("*, *, *", 20, "select a, c, b from t")), nested("*, *, *", 20, nested("*, *", 20, "select b, a, c from t")), api.ErrType},
+		{nested("*, *", 20, nested("*, *, *", 20, "select a, c, b, d, a from t")), nested("*, *, *", 20, nested("*, *, *, *, *", 1, nested("*, *", 20, "select null from t"))), api.OK},
+		// A text far within.
+		{within("*, 'x', *", wide(2, 40)), within("*, *, 'x', *, *", wide(2, 39)), api.OK},
+		{within("*, 'x', *", wide(2, 40)), within("*, 'x', *, *, *", wide(2, 39)), api.ErrType},
+		{within("*, 'x', *", wide(2, 40)), within("*, *, null, *, *", wide(2, 39)), api.OK},
+		{within("*, null, *", wide(2, 40)), within("*, *, 'x', *, *", wide(2, 39)), api.OK},
+		{within("*, 'x', *", wide(4, 20)), within("*, *, *, 'x', *, *, *, 1", wide(2, 38)), api.ErrForm},
+		{within("*, 'x', *, 1", wide(4, 20)), within("1, *, 'x', *", wide(4, 20)), api.ErrType},
+		{within("1, *, 'x', *", wide(4, 20)), within("*, 1, 'x', *", wide(4, 20)), api.OK},
+		// Texts at places that are told level by level, or again and again.
+		{within("*, 'x'", ruler), nested("*, *", 25, within("*, 'x'", ints)), api.OK},
+		{within("'x', *", ruler), nested("*, *", 25, within("*, 'x'", ints)), api.ErrType},
+		{within("'x', *", ruler), nested("*, *", 25, within("'x', *", ints)), api.OK},
+		{nested("*, *", 25, within("*, 'x'", ints)), within("*, 'x'", ruler), api.OK},
+		{nested("*, *", 25, within("*, null", ints)), within("*, 'x'", ruler), api.OK},
+		{within("*, null", ruler), nested("*, *", 25, within("*, 1", ints)), api.ErrType},
+		{nested("*, 1, *", 50, "select a from t"), nested("1, *, *", 50, "select a from t"), api.OK},
+		{nested("*, 1, *", 50, "select a from t"), nested("*, *, 1", 50, "select 'x' from t"), api.ErrType},
+		{nested("*, null, *", 50, "select a from t"), nested("1, *, *", 50, "select null from t"), api.OK},
+		{nested("*, null, *", 50, "select null from t"), nested("'x', *, *", 50, "select 'x' from t"), api.OK},
+		{nested("*, null, *", 50, "select null from t"), nested("'x', *, *", 50, "select null from t"), api.OK},
+		{nested("*, null, *", 50, "select null from t"), within("*, 1", nested("'x', *, *", 50, "select 'x' from t")), api.ErrForm},
+		// Kinds are what the cores ahead have left.
+		{within("*, *, null", wide(2, 50)) + " union " + within("*, 'x', *", wide(2, 50)), within("*, *, 1", wide(2, 50)), api.ErrType},
+		{within("*, *, null", wide(2, 50)) + " union " + within("null, *, *", wide(2, 50)), within("1, *, *", wide(2, 50)), api.OK},
+		{within("null, *, *", nested("*, *", 40, "select null")) + " union " + within("*, 'x', *", nested("*, *", 40, "select null")), within("*, 'x', *", nested("*, *", 40, "select null")), api.OK},
+		{within("null, *, *", nested("*, *", 40, "select null")) + " union " + within("*, 'x', *", nested("*, *", 40, "select null")), within("*, 1, *", nested("*, *", 40, "select null")), api.ErrType},
+	} {
+		text := x.first + " union " + x.second
+		s := one(t, text)
+		if e := bind.Check(tables, s); e != x.want {
+			t.Errorf("%.60s .. %.60s ..: %v, not %v", x.first, x.second, e, x.want)
+		}
+		// What the columns of all cores are is known then, too.
+		if _, e := bind.Resolve(tables, s.Query[0]); e != x.want {
+			t.Errorf("Resolve: %.60s .. %.60s ..: %v, not %v", x.first, x.second, e, x.want)
+		}
+		if x.want == api.OK {
+			expect(t, tables, "select 1 from ("+text+") w where exists (select 1)", api.OK)
+			expect(t, tables, "select a from ("+text+") w", api.ErrName)
+		}
 	}
 }
 

@@ -1,0 +1,109 @@
+package bind
+
+// stretch of a list: the least list that has all of it, and from where on.
+type stretch struct {
+	list  *List
+	from  size
+	round bool  // the list comes again and again
+	at    []int // which columns its columns are of the list that was asked
+}
+
+// stretchOf a list: so many columns from a place on.
+func stretchOf(l *List, from, count size) stretch {
+	s := stretch{list: l, from: from, at: counted(0, len(l.columns))}
+	for s.narrow(count) {
+	}
+	return s
+}
+
+// narrow the list to a part of it, if that has all of the stretch.
+func (s *stretch) narrow(count size) bool {
+	if base := s.list.base; base != nil {
+		_, s.from = s.from.over(base.count)
+		s.list, s.round = base, base.count.below(s.from.plus(count))
+		return !s.round
+	}
+	from := s.from
+	for _, number := range s.list.order {
+		p := s.list.parts[number]
+		if !from.below(p.of.count) {
+			from = from.minus(p.of.count)
+			continue
+		}
+		if p.of.count.below(from.plus(count)) {
+			return false
+		}
+		s.list, s.from, s.at = p.of, from, picked(s.at, p.at)
+		return true
+	}
+	return false
+}
+
+func (s stretch) side() side { return side{s.list.number, s.from, s.round} }
+
+// isWord: are its columns told one by one?
+func (s stretch) isWord() bool { return !s.round && len(s.list.parts) == 0 }
+
+// rest of a stretch, behind so many columns: so many.
+func (s stretch) rest(behind, count size) stretch {
+	from := s.from.plus(behind)
+	if s.round {
+		_, from = from.over(s.list.count)
+		if s.list.count.below(from.plus(count)) {
+			return stretch{s.list, from, true, counted(0, len(s.list.columns))}
+		}
+	}
+	return stretchOf(s.list, from, count)
+}
+
+// cuts of a stretch: where parts of it begin, but the first one.
+func (s stretch) cuts(count size) []size {
+	var l []size
+	end := size{}
+	for i := 0; s.round || i < len(s.list.order); i++ {
+		if s.round {
+			end = end.plus(s.list.count)
+		} else {
+			end = end.plus(s.list.parts[s.list.order[i]].of.count)
+		}
+		if !end.below(s.from.plus(count)) {
+			break
+		}
+		if s.from.below(end) {
+			l = append(l, end.minus(s.from))
+		}
+	}
+	return l
+}
+
+// letters: which columns of its list so many from its beginning on are.
+func (s stretch) letters(count int) []int {
+	if !s.round {
+		return s.list.letters(nil, s.from, count)
+	}
+	var l []int
+	from := s.from
+	for len(l) < count {
+		many := min(count-len(l), s.list.count.minus(from).small())
+		l = s.list.letters(l, from, many)
+		from = size{}
+	}
+	return l
+}
+
+// letters: to some numbers come those of so many columns of a list, from a place on.
+func (l *List) letters(out []int, from size, count int) []int {
+	s := stretchOf(l, from, sizeOf(count))
+	if s.round || s.list != l {
+		return append(out, picked(s.at, s.letters(count))...)
+	}
+	if len(l.parts) == 0 {
+		return append(out, l.word[from.small():from.small()+count]...)
+	}
+	behind := 0
+	for _, cut := range append(s.cuts(sizeOf(count)), sizeOf(count)) {
+		out = l.letters(out, from.plus(sizeOf(behind)), cut.small()-behind)
+		behind = cut.small()
+	}
+	return out
+}
