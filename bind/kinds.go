@@ -1,83 +1,216 @@
 package bind
 
 import (
+	"math/bits"
 	"slices"
 
 	"relstore/api"
 )
 
-// kindsFor a list: what the kinds of another one are to it. If both have columns of one kind at most, and it has no nulls itself, those of the other one do not matter.
-func (b *binder) kindsFor(l, other *List) *List {
-	kind := l.columns[0].kind
-	isNull := func(c column) bool { return c.kind == api.Null }
-	isElse := func(c column) bool { return c.kind != api.Null && c.kind != kind }
-	if slices.ContainsFunc(l.columns, isNull) || slices.ContainsFunc(l.columns, isElse) || slices.ContainsFunc(other.columns, isElse) {
-		return b.kindsOf(other)
-	}
-	return b.uniform(kind, l.count)
-}
+// A list of kinds has no columns: its word is kinds. So lists of one kind are alike, however they are made. It may have layers: lists of as many kinds, of which at each place those that are not null are the same, and count.
 
-// uniform: so many columns of one kind.
-func (b *binder) uniform(kind int, count size) *List {
-	letter := b.letters[kind]
-	if letter == nil {
-		letter = b.single("", kind)
-		b.letters[kind] = letter
-	}
-	if count == letter.count {
-		return letter
-	}
-	l := b.newList()
-	l.columns, l.count = letter.columns, count
-	l.repeat(letter)
-	return l
-}
-
-// kindsOf a list: as many columns, of which those of one kind are one and the same. So there is less to be matched, and lists of one kind are alike, however they are made.
+// kindsOf a list.
 func (b *binder) kindsOf(l *List) *List {
 	if k := b.kinds[l.number]; k != nil {
 		return k
 	}
-	var kinds []int
-	for _, c := range l.columns {
-		if !slices.Contains(kinds, c.kind) {
-			kinds = append(kinds, c.kind)
-		}
+	k := b.newList()
+	k.count, k.order = l.count, l.order
+	for _, n := range l.word {
+		k.word = append(k.word, l.columns[n].kind)
+		k.mask |= 1 << l.columns[n].kind
 	}
-	k := b.uniform(kinds[0], l.count)
-	if len(kinds) > 1 {
-		k = b.mixed(l, kinds)
+	for _, p := range l.parts {
+		of := b.kindsOf(p.of)
+		k.parts = append(k.parts, part{of: of})
+		k.mask |= of.mask
+	}
+	if l.base != nil {
+		k.repeat(b.kindsOf(l.base))
+		k.mask = k.base.mask
+	}
+	if bits.OnesCount(k.mask) == 1 {
+		k = b.uniform(k.mask, k.count)
 	}
 	b.kinds[l.number] = k
 	return k
 }
 
-// mixed: the kinds of a list that has several.
-func (b *binder) mixed(l *List, kinds []int) *List {
+// uniform: so many of one kind, which a mask tells.
+func (b *binder) uniform(mask uint, count size) *List {
+	letter := b.letters[mask]
+	if letter == nil {
+		letter = b.newList()
+		letter.count, letter.mask, letter.word = sizeOf(1), mask, []int{bits.TrailingZeros(mask)}
+		b.letters[mask] = letter
+	}
+	if count == letter.count {
+		return letter
+	}
 	k := b.newList()
-	k.count, k.order = l.count, l.order
-	for _, kind := range kinds {
-		k.columns = append(k.columns, column{kind: kind})
+	k.count, k.mask = count, mask
+	k.repeat(letter)
+	return k
+}
+
+// nullMask: of null alone.
+const nullMask = 1 << api.Null
+
+// layered: kinds of which at each place those of both count.
+func (b *binder) layered(x, y *List) *List {
+	if y.mask&nullMask == 0 {
+		return y
 	}
-	at := func(c column) int { return slices.Index(kinds, c.kind) }
-	for _, n := range l.word {
-		k.word = append(k.word, at(l.columns[n]))
-	}
-	for _, p := range l.parts {
-		of := b.kindsOf(p.of)
-		k.parts = append(k.parts, part{of, mapped(of.columns, at)})
-	}
-	if l.base != nil {
-		k.repeat(b.kindsOf(l.base))
+	k := b.newList()
+	k.count, k.mask = x.count, x.mask|y.mask
+	k.layers = append(slices.Clone(x.layers), y)
+	if len(x.layers) == 0 {
+		k.layers = []*List{x, y}
 	}
 	return k
 }
 
-// mapped: what comes of each one of a list.
-func mapped[T, U any](l []T, f func(T) U) []U {
-	m := make([]U, len(l))
-	for i, x := range l {
-		m[i] = f(x)
+// joined: the columns of a query, with a core more, whose columns must be alike: just those that are null may be of another kind then.
+func (b *binder) joined(l, further *List) *List {
+	x, y := b.kindsOf(l), b.kindsOf(further)
+	b.hold(stretchOf(x, size{}, x.count), stretchOf(y, size{}, x.count), x.count)
+	if x.mask&nullMask == 0 || y.mask == nullMask {
+		return l
 	}
-	return m
+	k := b.layered(x, y)
+	j := b.newList()
+	j.columns = slices.Clone(l.columns)
+	for i, c := range j.columns {
+		// Of what comes more than once no name tells the kind.
+		if c.kind == api.Null && !c.many {
+			j.columns[i].kind = k.kindsAt(nil, l.placeOf(i), 1)[0]
+		}
+	}
+	j.addPart(part{l, counted(0, len(l.columns))})
+	if j.count == sizeOf(len(j.columns)) {
+		j.settle()
+	} else {
+		b.kinds[j.number] = k
+	}
+	return j
+}
+
+// placeOf a column: the first one.
+func (l *List) placeOf(column int) size {
+	if l.base != nil {
+		return l.base.placeOf(column)
+	}
+	place := size{}
+	for _, number := range l.order {
+		p := l.parts[number]
+		if i := slices.Index(p.at, column); i >= 0 {
+			return place.plus(p.of.placeOf(i))
+		}
+		place = place.plus(p.of.count)
+	}
+	return sizeOf(slices.Index(l.word, column))
+}
+
+// hold stretches of kinds against one another: at each place they must be alike.
+func (b *binder) hold(x, y stretch, count size) {
+	if bits.OnesCount((x.list.mask|y.list.mask)&^nullMask) < 2 {
+		return
+	}
+	key := sides{x.side(), y.side(), count}
+	if _, is := b.held[key]; is {
+		return
+	}
+	b.spend(heldCost)
+	b.held[key] = struct{}{}
+	switch {
+	case len(x.list.layers) > 0:
+		for _, l := range x.list.layers {
+			b.hold(x.in(l, count), y, count)
+		}
+	case len(y.list.layers) > 0:
+		b.hold(y, x, count)
+	case count.below(sizeOf(shortList)) || x.isWord() || y.isWord():
+		b.holdEach(x.kinds(count.small()), y.kinds(count.small()))
+	default:
+		b.holdPieces(x, y, count)
+	}
+}
+
+// holdEach kind of a list against one of another one.
+func (b *binder) holdEach(x, y []int) {
+	b.spend(len(x))
+	for i := range x {
+		alike(x[i], y[i])
+	}
+}
+
+// holdPieces of two stretches, from cut to cut. If both come again and again, so do their pieces.
+func (b *binder) holdPieces(x, y stretch, count size) {
+	if period, known := x.period(y); known && period.below(count) {
+		count = period
+		x, y = x.rest(size{}, count), y.rest(size{}, count)
+		b.hold(x, y, count)
+		return
+	}
+	for from, some := range b.pieces(x, y, count) {
+		b.hold(x.rest(from, some), y.rest(from, some), some)
+	}
+}
+
+// kinds of so many places of a stretch.
+func (s stretch) kinds(count int) []int {
+	if !s.round {
+		return s.list.kindsAt(nil, s.from, count)
+	}
+	again := List{base: s.list}
+	return again.kindsAt(nil, s.from, count)
+}
+
+// kindsAt so many places, from one on: they come to some others.
+func (l *List) kindsAt(out []int, from size, count int) []int {
+	if l.base != nil {
+		return l.base.kindsAgain(out, from, count)
+	}
+	if len(l.layers) > 0 {
+		return append(out, l.layersAt(from, count)...)
+	}
+	if len(l.parts) == 0 {
+		return append(out, l.word[from.small():from.small()+count]...)
+	}
+	for _, number := range l.order {
+		of := l.parts[number].of
+		if count == 0 {
+			break
+		}
+		if !from.below(of.count) {
+			from = from.minus(of.count)
+			continue
+		}
+		some := min(count, of.count.minus(from).small())
+		out = of.kindsAt(out, from, some)
+		from, count = size{}, count-some
+	}
+	return out
+}
+
+// kindsAgain: likewise, of a list that comes again and again.
+func (l *List) kindsAgain(out []int, from size, count int) []int {
+	_, from = from.over(l.count)
+	for count > 0 {
+		some := min(count, l.count.minus(from).small())
+		out = l.kindsAt(out, from, some)
+		from, count = size{}, count-some
+	}
+	return out
+}
+
+// layersAt: likewise, of layers.
+func (l *List) layersAt(from size, count int) []int {
+	out := make([]int, count)
+	for _, layer := range l.layers {
+		for i, kind := range layer.kindsAt(nil, from, count) {
+			out[i] = max(out[i], kind)
+		}
+	}
+	return out
 }

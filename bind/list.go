@@ -9,11 +9,13 @@ const maxWide = 1 << 27
 type List struct {
 	number  int // among the lists of a call
 	columns []column
-	count   size   // of all
-	word    []int  // which columns they are, one by one
-	parts   []part // of what it is made
-	order   []int  // the parts' numbers, one behind the other
-	base    *List  // what comes again and again: it has the same columns
+	count   size    // of all
+	word    []int   // which columns they are, one by one
+	parts   []part  // of what it is made
+	order   []int   // the parts' numbers, one behind the other
+	base    *List   // what comes again and again: it has the same columns
+	layers  []*List // of kinds
+	mask    uint    // which kinds it has, if it is a list of kinds
 }
 
 // column of a list.

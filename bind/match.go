@@ -1,6 +1,7 @@
 package bind
 
 import (
+	"iter"
 	"slices"
 
 	"relstore/api"
@@ -8,6 +9,12 @@ import (
 
 // maxPairs: how many columns of a call's lists are matched one by one at most. Long lists that are made alike, or that come again and again, are matched part by part; others may have more columns than could ever be looked at.
 const maxPairs = 1 << 25
+
+// What two stretches that must be remembered count for: what they are, or just that they were held against one another.
+const (
+	matchCost = 32
+	heldCost  = 8
+)
 
 // shortList: so many columns are matched one by one, however they stand in their lists.
 const shortList = 1 << 8
@@ -59,18 +66,18 @@ func (b *binder) stretched(x, y stretch, count size) *match {
 	if m := b.matches[key]; m != nil {
 		return m
 	}
+	b.spend(matchCost)
 	m := b.newMatch(x.list, y.list)
-	period, known := size{}, false
-	if x.round && y.round {
-		period, known = x.list.count.period(y.list.count)
-	}
+	period, known := x.period(y)
 	switch {
 	case count.below(sizeOf(shortList)) || x.isWord() || y.isWord():
 		b.addPairs(m, x.letters(count.small()), y.letters(count.small()))
 	case known && period.below(count):
 		b.addPeriods(m, x, y, count, period)
 	default:
-		b.addPieces(m, x, y, count, b.cuts(x, y, count))
+		for from, some := range b.pieces(x, y, count) {
+			b.addStretches(m, x.rest(from, some), y.rest(from, some), some)
+		}
 	}
 	m.list.settle()
 	m.numbers = nil
@@ -108,13 +115,16 @@ func (b *binder) cutsOf(s stretch, count size) []size {
 	return s.cuts(count)
 }
 
-// addPieces of two stretches, from cut to cut.
-func (b *binder) addPieces(m *match, x, y stretch, count size, cuts []size) {
-	from := size{}
-	for _, to := range append(cuts, count) {
-		some := to.minus(from)
-		b.addStretches(m, x.rest(from, some), y.rest(from, some), some)
-		from = to
+// pieces of two stretches, from cut to cut: from where on, and how many columns.
+func (b *binder) pieces(x, y stretch, count size) iter.Seq2[size, size] {
+	return func(yield func(size, size) bool) {
+		from := size{}
+		for _, to := range append(b.cuts(x, y, count), count) {
+			if !yield(from, to.minus(from)) {
+				return
+			}
+			from = to
+		}
 	}
 }
 

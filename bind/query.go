@@ -32,7 +32,7 @@ func (b *binder) query(outer *scope, q api.Select) *Query {
 func (b *binder) further(q *Query, core Core, columns *List) {
 	refuse(columns.count != q.Columns.count, api.ErrForm)
 	if !b.places {
-		q.Columns, q.Cores = b.matched(q.Columns, b.kindsFor(q.Columns, columns)).list, append(q.Cores, core)
+		q.Columns, q.Cores = b.joined(q.Columns, columns), append(q.Cores, core)
 		return
 	}
 	m := b.matched(q.Columns, columns)

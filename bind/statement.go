@@ -77,9 +77,7 @@ func (b *binder) insert(s api.Stmt) {
 	for _, q := range s.Query {
 		columns := b.query(nil, q).Columns
 		refuse(columns.count != sizeOf(len(kinds)), api.ErrForm)
-		for i, kind := range kinds {
-			alike(kind, columns.columns[columns.nth(i)].kind)
-		}
+		b.holdEach(kinds, b.kindsOf(columns).kindsAt(nil, size{}, len(kinds)))
 	}
 	alone := b.ahead(newScope(nil))
 	for _, row := range s.Rows {

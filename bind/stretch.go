@@ -44,6 +44,27 @@ func (s stretch) side() side { return side{s.list.number, s.from, s.round} }
 // isWord: are its columns told one by one?
 func (s stretch) isWord() bool { return !s.round && len(s.list.parts) == 0 }
 
+// period of two stretches that both come again and again, if it can be told.
+func (s stretch) period(t stretch) (size, bool) {
+	if !s.round || !t.round {
+		return size{}, false
+	}
+	return s.list.count.period(t.list.count)
+}
+
+// in another list of as many columns as its own one: the same stretch.
+func (s stretch) in(l *List, count size) stretch {
+	if !s.round {
+		return stretchOf(l, s.from, count)
+	}
+	t := stretch{list: l, from: s.from, round: true}
+	if l.base != nil {
+		t.list = l.base
+		_, t.from = s.from.over(l.base.count)
+	}
+	return t
+}
+
 // rest of a stretch, behind so many columns: so many.
 func (s stretch) rest(behind, count size) stretch {
 	from := s.from.plus(behind)

@@ -153,6 +153,37 @@ func TestShiftedCores(t *testing.T) {
 	}
 }
 
+// P17: cores whose columns are made in ways that have nothing in common: what is of one kind, or null, is alike, however it stands.
+func TestSwappedCores(t *testing.T) {
+	tables := made(t, schema)
+	for _, x := range []struct {
+		first, second string // items of two queries, one within another one so many times
+		form          string
+		want          api.Errno
+	}{
+		{"*, 1, *", "*, *, 2, *", "select x.*, y.* $ union all select y.*, x.* $", api.OK},
+		{"*, null, *", "*, *, null, *", "select x.*, y.* $ union all select y.*, x.* $", api.OK},
+		{"*, null, *", "*, *, 2, *", "select x.*, y.* $ union all select y.*, x.* $ union select x.*, y.* $", api.OK},
+		{"*, null, *", "*, *, null, *", "select x.*, 'x', y.* $ union all select x.*, null, y.* $", api.OK},
+		{"*, null, *", "*, *, null, *", "select x.*, y.*, null $ union all select y.*, x.*, 'x' $ union all select x.*, y.*, null $", api.OK},
+		{"*, null, *", "*, *, null, *", "select x.*, y.*, null $ union all select y.*, x.*, 'x' $ union all select x.*, y.*, 1 $", api.ErrType},
+		{"*, null, *", "*, *, null, *", "select x.*, y.*, 1 $ union all select y.*, x.*, 'x' $", api.ErrType},
+		{"*, 'x', *", "*, *, 'x', *", "select x.*, y.* $ union all select y.*, x.* $", api.ErrType},
+		{"*, null, *", "*, *, null, *", "select z + 1 from (select null as z, x.*, y.* $ union all select 1, y.*, x.* $) w", api.OK},
+		{"*, null, *", "*, *, null, *", "select z + 1 from (select null as z, x.*, y.* $ union all select 'x', y.*, x.* $) w", api.ErrType},
+		{"*, null, *", "*, *, null, *", "select z || 'x' from (select x.*, y.*, null as z $ union all select y.*, x.*, null $ union all select y.*, x.*, 'x' $) w", api.OK},
+		{"*, null, *", "*, *, null, *", "select z || 'x' from (select x.*, y.*, null as z $ union all select y.*, x.*, null $ union all select y.*, x.*, 1 $) w", api.ErrType},
+	} {
+		for _, deep := range [][2]int{{2, 1}, {4, 3}, {14, 9}, {30, 19}} {
+			sources := "from (" + nested(x.first, deep[0], "select a from t") + ") x, (" + nested(x.second, deep[1], "select a from t") + ") y"
+			text := strings.ReplaceAll(x.form, "$", sources)
+			if e := bind.Check(tables, one(t, text)); e != x.want {
+				t.Errorf("%s %s %s %v: %v, not %v", x.first, x.second, x.form, deep, e, x.want)
+			}
+		}
+	}
+}
+
 // P17: the columns of unions of stars that are longer than a short list, held against the model.
 func TestLongUnions(t *testing.T) {
 	tables := made(t, schema)

@@ -127,6 +127,7 @@ func isDown(t *testing.T, s *relstore.Store) {
 
 // Behind each operation of the disk, and with each way of keeping: what was committed is there, and of the statement in which it went down all or nothing.
 func TestCrashes(t *testing.T) {
+	t.Parallel()
 	l := states(t)
 	for n := 0; ; n++ {
 		down := false

@@ -17,6 +17,7 @@ func digits(t *testing.T, c *relstore.Session) {
 
 // As many rows as there is always room for, of several shapes: they come all at once, are all turned, go, and come again; and the store is opened anew over them.
 func TestRoom(t *testing.T) {
+	t.Parallel()
 	const digitsRoom = 2000 + 10*(11+100)
 	numbers := " from n x, n y, n z, n w where x.a + 10 * y.a + 100 * z.a + 1000 * w.a < "
 	k := "x.a + 10 * y.a + 100 * z.a + 1000 * w.a"
@@ -55,6 +56,7 @@ func TestRoom(t *testing.T) {
 
 // As many tables and indexes as there is always room for.
 func TestRoomForTables(t *testing.T) {
+	t.Parallel()
 	d := disk.New()
 	c := opened(t, d, api.MinFrames).Session()
 	most := api.MaxRoom / 4000
