@@ -147,9 +147,7 @@ func (b *binder) holdEach(x, y []int) {
 // holdPieces of two stretches, from cut to cut. If both come again and again, so do their pieces.
 func (b *binder) holdPieces(x, y stretch, count size) {
 	if period, known := x.period(y); known && period.below(count) {
-		count = period
-		x, y = x.rest(size{}, count), y.rest(size{}, count)
-		b.hold(x, y, count)
+		b.hold(x.rest(size{}, period), y.rest(size{}, period), period)
 		return
 	}
 	for from, some := range b.pieces(x, y, count) {
@@ -159,11 +157,10 @@ func (b *binder) holdPieces(x, y stretch, count size) {
 
 // kinds of so many places of a stretch.
 func (s stretch) kinds(count int) []int {
-	if !s.round {
-		return s.list.kindsAt(nil, s.from, count)
+	if s.round {
+		return s.list.kindsAgain(nil, s.from, count)
 	}
-	again := List{base: s.list}
-	return again.kindsAt(nil, s.from, count)
+	return s.list.kindsAt(nil, s.from, count)
 }
 
 // kindsAt so many places, from one on: they come to some others.
@@ -177,15 +174,10 @@ func (l *List) kindsAt(out []int, from size, count int) []int {
 	if len(l.parts) == 0 {
 		return append(out, l.word[from.small():from.small()+count]...)
 	}
-	for _, number := range l.order {
-		of := l.parts[number].of
-		if count == 0 {
-			break
-		}
-		if !from.below(of.count) {
-			from = from.minus(of.count)
-			continue
-		}
+	n, begin := l.partAt(from)
+	from = from.minus(begin)
+	for ; count > 0; n++ {
+		of := l.parts[l.order[n]].of
 		some := min(count, of.count.minus(from).small())
 		out = of.kindsAt(out, from, some)
 		from, count = size{}, count-some
@@ -196,12 +188,11 @@ func (l *List) kindsAt(out []int, from size, count int) []int {
 // kindsAgain: likewise, of a list that comes again and again.
 func (l *List) kindsAgain(out []int, from size, count int) []int {
 	_, from = from.over(l.count)
-	for count > 0 {
-		some := min(count, l.count.minus(from).small())
-		out = l.kindsAt(out, from, some)
-		from, count = size{}, count-some
-	}
-	return out
+	some := min(count, l.count.minus(from).small())
+	begin := len(out)
+	out = l.kindsAt(out, from, some)
+	out = l.kindsAt(out, size{}, min(count-some, from.small()))
+	return again(out, begin, count)
 }
 
 // layersAt: likewise, of layers.

@@ -1,6 +1,10 @@
 package bind
 
-import "relstore/api"
+import (
+	"sort"
+
+	"relstore/api"
+)
 
 // maxWide: how many columns are written out at most, all rows together: there would be no memory for more.
 const maxWide = 1 << 27
@@ -13,6 +17,7 @@ type List struct {
 	word    []int   // which columns they are, one by one
 	parts   []part  // of what it is made
 	order   []int   // the parts' numbers, one behind the other
+	begins  []size  // where these begin, once that was asked
 	base    *List   // what comes again and again: it has the same columns
 	layers  []*List // of kinds
 	mask    uint    // which kinds it has, if it is a list of kinds
@@ -105,6 +110,19 @@ func (l *List) repeat(m *List) {
 	}
 }
 
+// partAt a place: which one of the order it is, and where it begins.
+func (l *List) partAt(place size) (int, size) {
+	if len(l.begins) == 0 {
+		begin := size{}
+		for _, number := range l.order {
+			l.begins = append(l.begins, begin)
+			begin = begin.plus(l.parts[number].of.count)
+		}
+	}
+	n := sort.Search(len(l.begins), func(i int) bool { return place.below(l.begins[i]) }) - 1
+	return n, l.begins[n]
+}
+
 // named: the first column of this name; -1, if there is none.
 func (l *List) named(name string) int {
 	for i, c := range l.columns {
@@ -166,12 +184,7 @@ func Spread[T any](l *List, rows [][]T) ([][]T, api.Errno) {
 func spread[T any](out []T, l *List, each []T) []T {
 	from := len(out)
 	if l.base != nil {
-		out = spread(out, l.base, each)
-		one := out[from:]
-		for len(out)-from < l.count.small() {
-			out = append(out, one...)
-		}
-		return out
+		return again(spread(out, l.base, each), from, l.count.small())
 	}
 	written := make([][2]int, len(l.parts)) // from where to where in out
 	for _, number := range l.order {
@@ -184,6 +197,14 @@ func spread[T any](out []T, l *List, each []T) []T {
 		written[number] = [2]int{begin, len(out)}
 	}
 	return append(out, picked(each, l.word)...)
+}
+
+// again: what stands from a place on comes again, up to so many.
+func again[T any](out []T, from, count int) []T {
+	for done := len(out) - from; done < count; done = len(out) - from {
+		out = append(out, out[from:from+min(done, count-done)]...)
+	}
+	return out
 }
 
 // picked: those of a list that stand at these places.

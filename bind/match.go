@@ -109,10 +109,10 @@ func (b *binder) cutsOf(s stretch, count size) []size {
 	if s.round {
 		often, _ := count.over(s.list.count)
 		b.spend(often.small())
-	} else {
-		b.spend(len(s.list.order))
 	}
-	return s.cuts(count)
+	l := s.cuts(count)
+	b.spend(len(l))
+	return l
 }
 
 // pieces of two stretches, from cut to cut: from where on, and how many columns.

@@ -23,20 +23,16 @@ func (s *stretch) narrow(count size) bool {
 		s.list, s.round = base, base.count.below(s.from.plus(count))
 		return !s.round
 	}
-	from := s.from
-	for _, number := range s.list.order {
-		p := s.list.parts[number]
-		if !from.below(p.of.count) {
-			from = from.minus(p.of.count)
-			continue
-		}
-		if p.of.count.below(from.plus(count)) {
-			return false
-		}
-		s.list, s.from, s.at = p.of, from, picked(s.at, p.at)
-		return true
+	if len(s.list.parts) == 0 {
+		return false
 	}
-	return false
+	n, begin := s.list.partAt(s.from)
+	p, from := s.list.parts[s.list.order[n]], s.from.minus(begin)
+	if p.of.count.below(from.plus(count)) {
+		return false
+	}
+	s.list, s.from, s.at = p.of, from, picked(s.at, p.at)
+	return true
 }
 
 func (s stretch) side() side { return side{s.list.number, s.from, s.round} }
@@ -80,19 +76,18 @@ func (s stretch) rest(behind, count size) stretch {
 // cuts of a stretch: where parts of it begin, but the first one.
 func (s stretch) cuts(count size) []size {
 	var l []size
-	end := size{}
-	for i := 0; s.round || i < len(s.list.order); i++ {
-		if s.round {
-			end = end.plus(s.list.count)
-		} else {
-			end = end.plus(s.list.parts[s.list.order[i]].of.count)
+	if s.round {
+		for cut := s.list.count.minus(s.from); cut.below(count); cut = cut.plus(s.list.count) {
+			l = append(l, cut)
 		}
-		if !end.below(s.from.plus(count)) {
+		return l
+	}
+	n, _ := s.list.partAt(s.from)
+	for _, begin := range s.list.begins[n+1:] {
+		if !begin.below(s.from.plus(count)) {
 			break
 		}
-		if s.from.below(end) {
-			l = append(l, end.minus(s.from))
-		}
+		l = append(l, begin.minus(s.from))
 	}
 	return l
 }

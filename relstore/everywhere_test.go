@@ -107,7 +107,9 @@ func TestForgedDisks(t *testing.T) {
 	name := text("t")
 	head := api.Entry{Key: key(name), Value: packed(number(1))}
 	made := api.Entry{Key: key(name, truth(0), number(0)), Value: "create table t (a integer primary key, b text)"}
-	index := func(l ...api.Value) api.Entry { return api.Entry{Key: key(name, truth(1), number(3)), Value: packed(l...)} }
+	index := func(l ...api.Value) api.Entry {
+		return api.Entry{Key: key(name, truth(1), number(3)), Value: packed(l...)}
+	}
 	for i, l := range [][]api.Entry{
 		{{Key: "x", Value: "y"}}, {{Key: key(number(1)), Value: "y"}}, {head}, {made}, {{Key: key(name), Value: ""}, made}, {{Key: key(name), Value: packed()}, made}, {{Key: key(name), Value: packed(text("x"))}, made},
 		{{Key: key(name), Value: packed(number(0))}, made}, {{Key: key(name), Value: packed(number(-1))}, made}, {{Key: key(name), Value: packed(number(math.MaxInt32))}, made}, {{Key: key(name), Value: packed(number(math.MaxInt64))}, made},
