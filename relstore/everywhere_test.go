@@ -3,6 +3,7 @@ package relstore_test
 import (
 	"math"
 	"math/rand"
+	"slices"
 	"testing"
 
 	"relstore/api"
@@ -110,24 +111,52 @@ func TestForgedDisks(t *testing.T) {
 	index := func(l ...api.Value) api.Entry {
 		return api.Entry{Key: key(name, truth(1), number(3)), Value: packed(l...)}
 	}
-	for i, l := range [][]api.Entry{
+	damaged := [][]api.Entry{
 		{{Key: "x", Value: "y"}}, {{Key: key(number(1)), Value: "y"}}, {head}, {made}, {{Key: key(name), Value: ""}, made}, {{Key: key(name), Value: packed()}, made}, {{Key: key(name), Value: packed(text("x"))}, made},
-		{{Key: key(name), Value: packed(number(0))}, made}, {{Key: key(name), Value: packed(number(-1))}, made}, {{Key: key(name), Value: packed(number(math.MaxInt32))}, made}, {{Key: key(name), Value: packed(number(math.MaxInt64))}, made},
-		{head, {Key: made.Key, Value: "select 1"}}, {head, {Key: made.Key, Value: "create table t (a integer, a text)"}}, {head, {Key: made.Key, Value: "create table t (a integer); select 1"}}, {head, {Key: made.Key, Value: "create table u (a integer)"}}, {head, {Key: made.Key, Value: ""}},
-		{head, made}, {head, made, {Key: key(name, number(1)), Value: ""}}, {head, made, {Key: key(name, truth(1)), Value: ""}}, {head, made, {Key: key(name, truth(1), text("x")), Value: packed(text("i"), truth(0), number(0))}},
-		{head, made, index()}, {head, made, index(text("i"))}, {head, made, index(text("i"), truth(1), number(2))}, {head, made, index(text("i"), truth(1), number(-1))}, {head, made, index(text("i"), truth(1), number(1))}, {head, made, index(text("i"), truth(1))}, {head, made, index(number(1), number(1), text("x"))},
+		{{Key: key(name), Value: packed(number(0))}, made}, {{Key: key(name), Value: packed(number(-1))}, made}, {{Key: key(name), Value: packed(number(math.MaxInt32 + 1))}, made}, {{Key: key(name), Value: packed(number(math.MaxInt64))}, made},
+		{head, {Key: made.Key, Value: "select 1"}}, {head, {Key: made.Key, Value: "create table t (a integer, a text)"}}, {head, {Key: made.Key, Value: "create table t (a integer); select 1"}}, {head, {Key: made.Key, Value: "create"}}, {head, {Key: made.Key, Value: ""}},
+		{head, made, {Key: key(name, truth(1)), Value: ""}}, {head, made, {Key: key(name, truth(1), text("x")), Value: packed(text("i"), truth(0), number(0))}},
+		{head, made, index()}, {head, made, index(text("i"))}, {head, made, index(text("i"), truth(1), number(2))}, {head, made, index(text("i"), truth(1), number(-1))},
+	}
+	odd := [][]api.Entry{
+		{{Key: key(name), Value: packed(number(math.MaxInt32))}, made}, {head, {Key: made.Key, Value: "create table u (a integer)"}}, {head, made}, {head, made, {Key: key(name, number(1)), Value: ""}},
+		{head, made, index(text("i"), truth(1), number(1))}, {head, made, index(text("i"), truth(1))}, {head, made, index(number(1), number(1), text("x"))},
 		{head, made, {Key: key(text("u")), Value: packed(number(1))}, {Key: key(text("u"), truth(0), number(0)), Value: "create table u (a integer)"}},
+	}
+	for i, l := range slices.Concat(damaged, odd) {
+		s, e := relstore.Open(forged(t, l...), 8)
+		if (s == nil) != (e != api.OK) || i < len(damaged) && e != api.ErrDamage {
+			t.Errorf("%d: %v with %v", i, s, e)
+		}
+		if s != nil {
+			tells(s.Session())
+		}
+	}
+}
+
+// Rows that are none, in a table that is one.
+func TestForgedRows(t *testing.T) {
+	head := api.Entry{Key: key(text("t")), Value: packed(number(9))}
+	made := api.Entry{Key: key(text("t"), truth(0), number(0)), Value: "create table t (a integer primary key, b text)"}
+	for i, row := range []api.Entry{
+		{Key: "x", Value: packed(number(1), text("x"))}, {Key: key(number(1)), Value: "x"}, {Key: key(number(1)), Value: ""}, {Key: key(number(1)), Value: packed()}, {Key: key(number(1)), Value: packed(number(1))}, {Key: key(number(1)), Value: packed(number(1), text("x"), number(1))}, {Key: key(number(1)), Value: packed(text("x"), text("x"))}, {Key: key(number(1)), Value: packed(number(1), truth(1))},
 	} {
-		for _, frames := range []int{8, 64} {
-			s, e := relstore.Open(forged(t, l...), frames)
-			if (s == nil) != (e != api.OK) {
-				t.Fatalf("%d: %v with %v", i, s, e)
-			}
-			if e != api.OK && e != api.ErrDamage {
-				t.Errorf("%d: %v", i, e)
-			}
-			if s != nil {
-				tells(s.Session())
+		d := forged(t, head, made)
+		s := opened(t, d, 8)
+		does(t, s.Session(), "select * from t", "-")
+		m, _ := mvcc.Open(d, 8)
+		x := m.Begin()
+		x.Put(9, row.Key, row.Value)
+		if e := x.Commit(); e != api.OK {
+			t.Fatal(e)
+		}
+		s, e := relstore.Open(d, 8)
+		if e != api.OK {
+			continue
+		}
+		for _, text := range []string{"select * from t", "update t set b = 'y'", "delete from t", "create index i on t (b)", "drop table t"} {
+			if got := told(results(t, s.Session(), text)); got != "Damage" {
+				t.Errorf("%d: %s: %s", i, text, got)
 			}
 		}
 	}

@@ -13,7 +13,7 @@ type shown struct {
 
 // All rows of a table.
 func (s shown) All(n int) ([][]api.Value, api.Errno) {
-	return s.values(n, func(t table) []api.Row { return s.all(t) })
+	return s.values(n, s.all)
 }
 
 // Find rows by a key or an index.
