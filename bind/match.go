@@ -12,7 +12,7 @@ const maxPairs = 1 << 25
 
 // What two stretches that must be remembered count for: what they are, or just that they were held against one another.
 const (
-	matchCost = 32
+	matchCost = 128
 	heldCost  = 8
 )
 

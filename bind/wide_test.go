@@ -202,3 +202,16 @@ func TestLongUnions(t *testing.T) {
 		}
 	}
 }
+
+// P1: what would take too long ends, too: columns of cores that are made in ways that have nothing in common, if it must be known which ones stand at the same places.
+func TestEndlessMatch(t *testing.T) {
+	tables := made(t, schema)
+	sources := "from (" + nested("*, 1, *", 40, "select a from t") + ") x, (" + nested("*, *, 2, *", 25, "select a from t") + ") y"
+	s := one(t, "select x.*, y.* "+sources+" union all select y.*, x.* "+sources)
+	if e := bind.Check(tables, s); e != api.OK {
+		t.Errorf("Check: %v", e)
+	}
+	if _, e := bind.Resolve(tables, s.Query[0]); e != api.ErrLarge {
+		t.Errorf("Resolve: %v", e)
+	}
+}

@@ -152,13 +152,94 @@ func (w *weaver) regrouped() (wideQuery, wideQuery) {
 	return x, y
 }
 
+// starred: all columns of a query, so many times.
+func starred(q wideQuery, times int) wideQuery {
+	return over(q, slices.Repeat([]string{"*"}, times), make([]api.Value, times))
+}
+
+// sparse: a query of so many columns, most of them null, and some of them this one.
+func (w *weaver) sparse(count int, item string, v api.Value) wideQuery {
+	var q wideQuery
+	var items []string
+	for i := range count {
+		s, v := item, v
+		if w.in(8) > 0 {
+			s, v = "null", api.Value{}
+		}
+		items = append(items, s)
+		q.cells = append(q.cells, cell{api.Column{Name: "column" + itoa(i+1), Kind: v.Kind}, v})
+	}
+	q.text = "select " + strings.Join(items, ", ")
+	return q
+}
+
+// periodic: two queries that come again and again, in different steps.
+func (w *weaver) periodic() (wideQuery, wideQuery) {
+	step, more := 2+w.in(20), 1+w.in(3)
+	pairs := [][2]int{{2, 3}, {3, 4}, {5, 2}, {7, 4}, {1, 6}, {5, 7}}
+	n := pairs[w.in(len(pairs))]
+	item := api.Value{Kind: api.Int, N: 7}
+	x := w.sparse(step*n[0], "'x'", api.Value{Kind: api.Text, S: "x"})
+	if w.ints {
+		x = w.sparse(step*n[0], "7", item)
+	}
+	y := w.sparse(step*n[1], "7", item)
+	x, y = starred(starred(x, n[1]), more), starred(starred(y, more), n[0])
+	if w.in(2) == 0 {
+		return over(x, []string{"*", "1"}, []api.Value{{}, {Kind: api.Int, N: 1}}), over(y, []string{"null", "*"}, []api.Value{{}, {}})
+	}
+	return x, y
+}
+
+// fused: a query of two that are alike: the row of the first one, of the kinds of both.
+func fused(x, y wideQuery) (wideQuery, bool) {
+	columns, _, ok := united([]wideQuery{x, y})
+	q := wideQuery{text: x.text + " union all " + y.text + " where false"}
+	for i, c := range columns {
+		q.cells = append(q.cells, cell{c, x.cells[i].value})
+	}
+	return q, ok
+}
+
+// layered: two queries over others that have several cores, most of whose columns are null.
+func (w *weaver) layered() (wideQuery, wideQuery) {
+	var l []wideQuery
+	for len(l) < 2 {
+		x, y := w.periodic()
+		if q, ok := fused(x, y); ok && len(q.cells) < 400 {
+			l = append(l, q)
+		}
+	}
+	x, y := over(l[0], []string{"*", "*", "null"}, make([]api.Value, 3)), starred(l[1], 1+w.in(3))
+	if w.in(3) == 0 {
+		y = over(l[0], []string{"*", "null", "*"}, make([]api.Value, 3))
+	}
+	if len(x.cells) > len(y.cells) {
+		x, y = y, x
+	}
+	nulls := make([]string, len(y.cells)-len(x.cells)+1)
+	for i := range nulls {
+		nulls[i] = "null"
+	}
+	nulls[w.in(len(nulls))] = "*"
+	x = over(x, nulls, make([]api.Value, len(nulls)))
+	if w.in(2) == 0 {
+		return y, x
+	}
+	return x, y
+}
+
 // two queries of as many columns.
 func (w *weaver) two() (wideQuery, wideQuery) {
-	switch w.in(4) {
+	switch w.in(8) {
 	case 0:
 		return w.shifted()
 	case 1:
 		return w.regrouped()
+	case 2, 3:
+		return w.periodic()
+	case 4, 5:
+		return w.layered()
 	}
 	for {
 		x, y := w.grown(300), w.grown(300)
@@ -206,10 +287,11 @@ func united(l []wideQuery) ([]api.Column, [][]api.Value, bool) {
 
 // P17, P18: unions of queries whose stars stand anyhow, held against their columns one by one.
 func TestWideUnions(t *testing.T) {
+	t.Parallel()
 	data := base(t, "create table t (a integer, b integer, c text, d boolean, e integer); insert into t values (11, 12, 'c', true, null)")
 	tables := tablesOf(data)
 	counts := map[bool]int{}
-	for seed := range 1500 {
+	for seed := range 1600 {
 		w := &weaver{rand.New(rand.NewSource(int64(seed))), seed%2 == 0}
 		x, y := w.two()
 		cores := []wideQuery{x, y}
