@@ -414,3 +414,30 @@ func count(columns []api.Column, name string) int {
 	}
 	return n
 }
+
+// nest: a query of these items over another one of them, and so on, so many times.
+func nest(items string, deep int, q string) string {
+	for range deep {
+		q = "select " + items + " from (" + q + ") x"
+	}
+	return q
+}
+
+// P18: cores of more columns than could be written out, whose stars begin at different places, are held against one another just as those of few columns.
+func TestEndlessUnions(t *testing.T) {
+	data := base(t, "create table t (a integer, b integer); insert into t values (1, 2), (3, 4), (5, null)")
+	for _, x := range []struct{ text, want string }{
+		{"select count(*) from ($ union all #) w", "6"}, {"select count(*) from ($ union #) w", "5"}, {"select count(*) from ($ except #) w", "2"}, {"select count(*) from ($ intersect #) w", "1"},
+		{"select sum(z) from ($ union all #) w", "12"}, {"select sum(z) from ($ union all # order by 2 desc, z limit 2) w", "6"}, {"select min(z) from ($ union all # order by 2 desc limit 1) w", "5"}, {"select exists ($ union all #)", "true"},
+		{"select count(*) from (select distinct * from ($ union all #) w) v", "5"}, {"select count(*) from (select *, 5, * from ($ union all #) w union select 6, *, * from ($ union all #) w) v", "10"}, {"select z from ($ union all #) w where z = 3", "3"},
+	} {
+		for _, deep := range []int{1, 3, 24, 54} {
+			n := nest("*, *", deep, "select a from t")
+			text := strings.NewReplacer("$", "select *, *, 1 as z from ("+n+") x", "#", "select 1, *, * from ("+n+") x").Replace(x.text)
+			r, e := query.Answer(data, asked(t, text))
+			if e != api.OK || len(r.Rows) != 1 || value.Show(r.Rows[0][0]) != x.want {
+				t.Errorf("%s, %d deep: %v %v, not %s", x.text, deep, r.Rows, e, x.want)
+			}
+		}
+	}
+}
