@@ -7,7 +7,7 @@ import (
 	"relstore/api"
 )
 
-// A list of kinds has no columns: its word is kinds. So lists of one kind are alike, however they are made. It may have layers: lists of as many kinds, of which at each place those that are not null are the same, and count.
+// A list of kinds has no columns: its word is kinds. One of which the kinds come again and again, however it is made, is told so, and need not end where they do. It may have layers: lists of as many kinds, of which at each place those that are not null are the same, and count.
 
 // kindsOf a list.
 func (b *binder) kindsOf(l *List) *List {
@@ -15,42 +15,44 @@ func (b *binder) kindsOf(l *List) *List {
 		return k
 	}
 	k := b.newList()
-	k.count, k.order = l.count, l.order
-	for _, n := range l.word {
-		k.word = append(k.word, l.columns[n].kind)
-		k.mask |= 1 << l.columns[n].kind
-	}
-	for _, p := range l.parts {
-		of := b.kindsOf(p.of)
-		k.parts = append(k.parts, part{of: of})
-		k.mask |= of.mask
-	}
-	if l.base != nil {
-		k.repeat(b.kindsOf(l.base))
-		k.mask = k.base.mask
-	}
-	if bits.OnesCount(k.mask) == 1 {
-		k = b.uniform(k.mask, k.count)
+	switch {
+	case l.base != nil:
+		k = b.repeated(b.kindsOf(l.base), l.count)
+	case len(l.parts) == 0:
+		k = b.repeated(b.rootOf(mapped(l.word, func(n int) int { return l.columns[n].kind }), false), l.count)
+	default:
+		k.count, k.order = l.count, l.order
+		for _, p := range l.parts {
+			of := b.kindsOf(p.of)
+			k.parts = append(k.parts, part{of: of})
+			k.mask |= of.mask
+		}
+		if root := b.rootOfParts(k); root != nil {
+			k = b.repeated(root, l.count)
+		}
 	}
 	b.kinds[l.number] = k
 	return k
 }
 
-// uniform: so many of one kind, which a mask tells.
-func (b *binder) uniform(mask uint, count size) *List {
-	letter := b.letters[mask]
-	if letter == nil {
-		letter = b.newList()
-		letter.count, letter.mask, letter.word = sizeOf(1), mask, []int{bits.TrailingZeros(mask)}
-		b.letters[mask] = letter
-	}
-	if count == letter.count {
-		return letter
+// repeated: so many kinds, of a list that comes again and again.
+func (b *binder) repeated(l *List, count size) *List {
+	if l.count == count {
+		return l
 	}
 	k := b.newList()
-	k.count, k.mask = count, mask
-	k.repeat(letter)
+	k.count, k.mask = count, l.mask
+	k.repeat(l)
 	return k
+}
+
+// mapped: what comes of each one of a list.
+func mapped[T, U any](l []T, f func(T) U) []U {
+	m := make([]U, len(l))
+	for i, x := range l {
+		m[i] = f(x)
+	}
+	return m
 }
 
 // nullMask: of null alone.
@@ -60,6 +62,9 @@ const nullMask = 1 << api.Null
 func (b *binder) layered(x, y *List) *List {
 	if y.mask&nullMask == 0 {
 		return y
+	}
+	if root := b.rootOfLayers(x, y); root != nil {
+		return b.repeated(root, x.count)
 	}
 	k := b.newList()
 	k.count, k.mask = x.count, x.mask|y.mask

@@ -105,9 +105,18 @@ func (l *List) settle() {
 // repeat another list, which has the same columns.
 func (l *List) repeat(m *List) {
 	l.base = m
-	if m.base != nil {
+	if m.isWhole() {
 		l.base = m.base
 	}
+}
+
+// isWhole: does it come again and again, and end where what comes ends?
+func (l *List) isWhole() bool {
+	if l.base == nil {
+		return false
+	}
+	_, left := l.count.over(l.base.count)
+	return left == size{}
 }
 
 // partAt a place: which one of the order it is, and where it begins.

@@ -54,7 +54,7 @@ func (s stretch) in(l *List, count size) stretch {
 		return stretchOf(l, s.from, count)
 	}
 	t := stretch{list: l, from: s.from, round: true}
-	if l.base != nil {
+	if l.isWhole() {
 		t.list = l.base
 		_, t.from = s.from.over(l.base.count)
 	}

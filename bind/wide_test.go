@@ -203,6 +203,39 @@ func TestLongUnions(t *testing.T) {
 	}
 }
 
+// P17: cores whose kinds come again and again, though they are made in ways that have nothing in common.
+func TestAlternatingCores(t *testing.T) {
+	tables := made(t, schema)
+	for _, x := range []struct {
+		first, second [2]string // items, and the query within
+		form          string
+		want          api.Errno
+	}{
+		{[2]string{"*, 'x', *", "select a from t"}, [2]string{"*, 'x', *, 'x', *", "select b from t"}, "select x.*, 'x', y.* $ union all select y.*, 'x', x.* $", api.OK},
+		{[2]string{"*, 'x', *", "select a from t"}, [2]string{"*, 'x', *, 'x', *", "select b from t"}, "select x.*, 'x', y.* $ union all select y.*, 1, x.* $", api.ErrType},
+		{[2]string{"*, 'x', *", "select a from t"}, [2]string{"*, 'x', *, 'x', *", "select b from t"}, "select 'x', x.*, y.* $ union all select y.*, x.*, 'x' $", api.ErrType},
+		{[2]string{"*, true, null, *", "select a from t"}, [2]string{"*, true, 'x', *, true, 'x', *", "select b from t"}, "select x.*, null, null, y.* $ union all select y.*, true, 'x', x.* $", api.OK},
+		{[2]string{"*, true, null, *", "select a from t"}, [2]string{"*, true, 'x', *, true, 'x', *", "select b from t"}, "select x.*, null, null, y.* $ union all select y.*, true, 'x', x.* $ union all select y.*, null, 1, x.* $", api.ErrType},
+		{[2]string{"*, true, null, *", "select a from t"}, [2]string{"*, true, 'x', *, true, 'x', *", "select b from t"}, "select x.*, null, null, y.* $ union all select x.*, true, null, y.* $ union all select y.*, null, 'x', x.* $", api.OK},
+		// Texts at even places, numbers at odd ones.
+		{[2]string{"*, null, *", "select c from t"}, [2]string{"*, 1, *, 1, *", "select null"}, "select x.*, null, y.* $ union all select y.*, null, x.* $", api.OK},
+		{[2]string{"*, null, *", "select c from t"}, [2]string{"*, 1, *, 1, *", "select null"}, "select x.*, null, y.* $ union all select null, y.*, x.* $", api.ErrType},
+		{[2]string{"*, null, *", "select c from t"}, [2]string{"*, 1, *, 1, *", "select null"}, "select x.*, null, y.* $ union all select y.*, null, x.* $ union all select null, x.*, y.* $", api.ErrType},
+		{[2]string{"*, *, null, null", "select c, c from t"}, [2]string{"*, *, *, 1, 1", "select null, null, 1, 1"}, "select x.*, y.* $ union all select null, null, y.*, x.* $", api.ErrForm},
+	} {
+		for _, deep := range [][2]int{{2, 1}, {4, 3}, {14, 9}, {28, 17}} {
+			sources := "from (" + nested(x.first[0], deep[0], x.first[1]) + ") x, (" + nested(x.second[0], deep[1], x.second[1]) + ") y"
+			s := one(t, strings.ReplaceAll(x.form, "$", sources))
+			if e := bind.Check(tables, s); e != x.want {
+				t.Errorf("%v %v %s %v: %v, not %v", x.first, x.second, x.form, deep, e, x.want)
+			}
+			if _, e := bind.Columns(tables, s.Query[0]); deep[0] < 10 && e != x.want {
+				t.Errorf("Columns: %v %v %s %v: %v, not %v", x.first, x.second, x.form, deep, e, x.want)
+			}
+		}
+	}
+}
+
 // P1: what would take too long ends, too: columns of cores that are made in ways that have nothing in common, if it must be known which ones stand at the same places.
 func TestEndlessMatch(t *testing.T) {
 	tables := made(t, schema)
