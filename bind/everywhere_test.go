@@ -17,6 +17,7 @@ import (
 // all calls, of whatever.
 func all(tables []api.Table, s api.Stmt) {
 	bind.Check(tables, s)
+	bind.Readings(tables, s)
 	bind.Define(tables, s)
 	bind.Index(tables, s)
 	for _, q := range s.Query {

@@ -115,6 +115,7 @@ func (b *binder) core(outer *scope, c api.Core, ordered bool) (*scope, Core, *Li
 		s.fit(t)
 	}
 	made.Aggregates = s.aggregates
+	b.cores = append(b.cores, made)
 	return s, made, columns
 }
 

@@ -17,7 +17,7 @@ func (b *binder) statement(s api.Stmt) {
 		b.update(s)
 	case api.Delete:
 		t := b.table(s.Table)
-		b.among(t).truths(s.Where)
+		b.turning(s.Table, b.among(t).truths(s.Where))
 	case api.CreateTable:
 		b.createTable(s)
 	case api.CreateIndex:
@@ -114,7 +114,7 @@ func (b *binder) update(s api.Stmt) {
 	for i, x := range s.Sets {
 		alike(t.Columns[numbers[i]].Kind, row.term(x.Expr).Kind)
 	}
-	row.truths(s.Where)
+	b.turning(s.Table, row.truths(s.Where))
 }
 
 func (b *binder) createIndex(s api.Stmt) {

@@ -65,14 +65,17 @@ func unkeyed(s string) []api.Value {
 	return l
 }
 
-// tablesOf a statement: those that it must know.
+// tablesOf a statement: those that it must know. Their definitions are read, and so is that there are none.
 func (w *work) tablesOf(s api.Stmt) []table {
 	if s.Kind == api.CreateIndex || s.Kind == api.DropIndex {
 		// Any table may have an index of that name.
+		w.read.allDefinitions()
 		return w.allTables()
 	}
+	names := namesIn(s)
+	w.read.definitionsOf(names)
 	var tables []table
-	for _, name := range namesIn(s) {
+	for _, name := range names {
 		if l := w.peek(catalog, behind(keyOf(text(name)))); len(l) > 0 {
 			tables = append(tables, read(l))
 		}
@@ -184,7 +187,7 @@ func named(tables []table, name string) table {
 
 // count which numbers were given to the tables and rows that there are.
 func (s *Store) count() {
-	w := &work{s, s.data.Begin()}
+	w := s.begin()
 	defer w.tx.Rollback()
 	for _, t := range w.allTables() {
 		s.tables = max(s.tables, t.number+len(t.Keys))

@@ -19,6 +19,7 @@ func (w *work) createIndex(tables []table, s api.Stmt) {
 	n, made, e := bind.Index(definitions(tables), s)
 	check(e)
 	t := tables[n]
+	w.read.allRows(t)
 	o := order{columns: made.Columns, unique: made.Unique}
 	rows := w.all(t)
 	refuse(slices.ContainsFunc(rows, func(r api.Row) bool { return o.tooLarge(r.Values) }), api.ErrLarge)
@@ -48,6 +49,7 @@ func (o order) repeats(rows []api.Row) bool {
 
 // dropTable, with all its rows.
 func (w *work) dropTable(t table) {
+	w.read.allRows(t)
 	var turns []turn
 	for _, r := range w.all(t) {
 		turns = append(turns, turn{id: r.Id, before: r.Values})
@@ -62,6 +64,7 @@ func (w *work) dropIndex(tables []table, name string) {
 		for i, x := range t.Indexes {
 			if x.Name == name {
 				o := t.orders[len(t.Keys)+i]
+				w.dropped = append(w.dropped, drop{o.number, w.tx.Mark()})
 				w.eraseAll(o.number, everything())
 				w.erase(catalog, t.indexKey(o))
 			}

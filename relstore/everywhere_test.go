@@ -35,13 +35,18 @@ func TestOpenRefuses(t *testing.T) {
 	}
 }
 
-// tells: statements of all kinds, whatever they answer.
+// tells: statements of all kinds, by themselves and in a transaction, whatever they answer.
 func tells(c *relstore.Session) {
-	for _, text := range []string{
-		"select * from t", "select * from t where a = 1", "select * from t where b = 'x' and a = 1", "select count(*) from t x, t y where x.a = y.a", "insert into t values (1, 'x')", "insert into t (a) values (2)", "update t set a = a + 1", "delete from t where a = 2",
-		"create index k on t (b)", "create unique index l on t (a)", "drop index i", "drop index k", "create table t (a integer)", "create table w (a integer)", "drop table t", "drop table w", "checkpoint", "begin", "commit", "rollback", "rollback to s", "savepoint s", "release s", "select", "",
-	} {
-		c.Exec(text)
+	texts := []string{
+		"select * from t", "select * from t where a = 1", "select * from t where b = 'x' and a = 1", "select count(*) from t x, t y where x.a = y.a", "insert into t values (1, 'x')", "insert into t (a) values (2)", "update t set a = a + 1", "savepoint s", "delete from t where a = 2",
+		"create index k on t (b)", "create unique index l on t (a)", "drop index i", "drop index k", "create table t (a integer)", "create table w (a integer)", "drop table t", "rollback to s", "drop table w", "checkpoint", "release s", "rollback to s", "select", "",
+	}
+	for _, ahead := range []string{"", "begin", "rollback", "begin"} {
+		c.Exec(ahead)
+		for _, text := range texts {
+			c.Exec(text)
+		}
+		c.Exec("commit")
 	}
 }
 
@@ -162,6 +167,23 @@ func TestForgedRows(t *testing.T) {
 	}
 }
 
+// A row for which there is no number any more is refused behind others that were written: these are gone, too, and the transaction is open.
+func TestNoMoreNumbers(t *testing.T) {
+	d := disk.New()
+	m, _ := mvcc.Open(d, 8)
+	x := m.Begin()
+	x.Put(0, key(text("t")), packed(number(9)))
+	x.Put(0, key(text("t"), truth(0), number(0)), "create table t (a integer)")
+	x.Put(9, key(number(math.MaxInt64-3)), packed(number(1)))
+	if e := x.Commit(); e != api.OK {
+		t.Fatal(e)
+	}
+	c := opened(t, d, 8).Session()
+	doesAll(t, c, pair{"begin; insert into t values (2)", "0 1"}, pair{"insert into t values (3), (4), (5)", "Large"}, pair{"select * from t; update t set a = a + 1; commit; select * from t", "[1][2] 2 0 [2][3]"}, pair{"insert into t values (4)", "Large"})
+	c = opened(t, d, 8).Session()
+	doesAll(t, c, pair{"insert into t values (3), (4), (5)", "Large"}, pair{"select * from t", "[2][3]"})
+}
+
 // P1: bytes of a store of which some were turned.
 func TestSpoiltDisks(t *testing.T) {
 	t.Parallel()
@@ -217,7 +239,8 @@ func TestMemory(t *testing.T) {
 	for _, text := range texts {
 		wants = append(wants, told(results(t, c, text)))
 	}
-	for range 3 {
+	for _, ahead := range []string{"rollback", "begin", "savepoint s"} {
+		results(t, c, ahead)
 		for i, text := range texts {
 			l := results(t, c, text)
 			rows := map[*api.Value]int{}
@@ -249,12 +272,19 @@ func TestTwoStores(t *testing.T) {
 	does(t, a, "create index i on t (a); select * from t where a = 1", "0 [1]")
 	does(t, b, "drop table t", "0")
 	does(t, a, "select * from t where a = 1; drop index i", "[1] 0")
+	// Nor do their transactions.
+	does(t, a, "begin; savepoint s; select * from t; insert into t values (2)", "0 0 [1] 1")
+	does(t, b, "commit", "State")
+	does(t, b, "begin; rollback to s", "0 Missing")
+	does(t, b, "create table t (a integer); insert into t values (1); commit; delete from t", "0 1 0 1")
+	does(t, a, "commit; select * from t", "0 [1][2]")
 }
 
 func FuzzExec(f *testing.F) {
 	for _, s := range script() {
 		f.Add(s)
 	}
+	f.Add("begin; insert into t values (3, 'y'); savepoint s; delete from t; rollback to s; release s; commit; rollback")
 	f.Fuzz(func(t *testing.T, text string) {
 		c := fresh(t)
 		does(t, c, "create table t (a integer primary key, b text); insert into t values (1, 'x'), (2, null)", "0 2")

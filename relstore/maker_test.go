@@ -124,12 +124,58 @@ func (m *maker) where(columns []named) string {
 	switch {
 	case m.oneIn(8):
 		return ""
-	case m.oneIn(3) && len(columns) > 0:
-		// A column that is told, and so perhaps a key.
-		c := pick(m, columns...)
-		return " where " + c.text + " = " + m.expr(c.kind, nil) + pick(m, "", " and "+m.expr(api.Bool, columns))
+	case m.oneIn(2) && len(columns) > 0:
+		return " where " + m.parts(columns)
 	}
 	return " where " + m.expr(api.Bool, columns)
+}
+
+// parts that must all be true; in most of them a column is told, and so perhaps a key.
+func (m *maker) parts(columns []named) string {
+	var l []string
+	for range 1 + m.r.Intn(3) {
+		c := pick(m, columns...)
+		l = append(l, pick(m, c.text+" = "+m.expr(c.kind, nil), c.text+" = "+m.literal(c.kind), c.text+pick(m, " < ", " >= ", " <> ")+m.literal(c.kind), m.literal(c.kind)+" = "+pick(m, columns...).text, m.expr(api.Bool, columns)))
+	}
+	if len(l) == 3 && m.oneIn(2) {
+		return l[0] + " and (" + l[1] + " and " + l[2] + ")"
+	}
+	return strings.Join(l, pick(m, " and ", " and ", " and ", " or "))
+}
+
+// plainColumns of a table: without its name.
+func plainColumns(t api.Table) []named {
+	var l []named
+	for _, c := range t.Columns {
+		l = append(l, named{c.Name, c.Kind})
+	}
+	return l
+}
+
+// small statement, which looks at a few rows.
+func (m *maker) small() string {
+	if len(m.tables) == 0 {
+		return m.createTable()
+	}
+	t := m.any()
+	columns := plainColumns(t)
+	c := pick(m, t.Columns...)
+	where := " where " + m.noQuery(func() string { return m.parts(columns) })
+	switch m.r.Intn(6) {
+	case 0:
+		return "select * from " + t.Name + where
+	case 1:
+		return "select count(*) from " + t.Name + " x, " + t.Name + " y where x." + c.Name + " = " + m.literal(c.Kind) + " and y." + c.Name + " = " + m.literal(c.Kind)
+	case 2:
+		return "update " + t.Name + " set " + c.Name + " = " + m.literal(c.Kind) + where
+	case 3:
+		return "delete from " + t.Name + where + " and " + c.Name + " = " + m.literal(c.Kind)
+	}
+	var l []string
+	for _, c := range t.Columns {
+		l = append(l, m.literal(c.Kind))
+	}
+	return "insert into " + t.Name + " values (" + strings.Join(l, ", ") + ")"
 }
 
 func names(t api.Table, numbers []int) string {
@@ -210,14 +256,20 @@ func (m *maker) query() string {
 	t, u := m.any(), m.any()
 	x, y := columnsOf(t, "x"), columnsOf(u, "y")
 	both := slices.Concat(x, y)
-	switch m.r.Intn(4) {
+	switch m.r.Intn(8) {
 	case 0:
 		return "select * from " + t.Name + " x" + m.where(x)
 	case 1:
 		return "select " + m.expr(m.kind(), both) + ", x.* from " + t.Name + " x" + pick(m, ", "+u.Name+" y", " left join "+u.Name+" y on "+m.expr(api.Bool, both)) + m.where(both)
 	case 2:
 		c := pick(m, x...)
-		return "select " + c.text + ", count(*), max(" + m.expr(m.kind(), x) + ") from " + t.Name + " x" + m.where(x) + " group by " + c.text
+		return "select " + c.text + ", count(*), max(" + m.expr(m.kind(), x) + ") from " + t.Name + " x" + m.where(x) + " group by " + c.text + pick(m, "", " having "+m.expr(api.Bool, nil))
+	case 3:
+		return "select count(*) from " + t.Name + " x" + pick(m, " cross join "+u.Name+" y", " left join "+u.Name+" y on "+m.test(both), " join "+u.Name+" y on "+m.test(both)) + " where " + m.parts(both)
+	case 4:
+		return "select * from (select * from " + t.Name + m.where(plainColumns(t)) + ") as x, " + u.Name + " as y where " + m.parts(both)
+	case 5:
+		return "select 1 from " + t.Name + m.where(plainColumns(t)) + " order by " + m.expr(m.kind(), plainColumns(t)) + pick(m, "", " limit 0", " limit 2")
 	}
 	k := m.kind()
 	return "select " + m.expr(k, x) + " from " + t.Name + " x" + m.where(x) + pick(m, " union ", " except ", " intersect ", " union all ") + "select " + m.expr(k, y) + " from " + u.Name + " y"
@@ -246,23 +298,26 @@ func (m *maker) statement() string {
 	return m.insert()
 }
 
-// fits: a database does not grow on and on.
-func (m *maker) fits(d []api.Data) bool {
-	return !slices.ContainsFunc(d, func(x api.Data) bool { return len(x.Rows) > 40 })
+// bounded: a statement, but one that takes rows away from a database that has many: it does not grow on and on.
+func (m *maker) bounded(by *model, statement func() string) string {
+	m.tables = by.tables()
+	text := statement()
+	for _, r := range by.list {
+		if len(r.rows) > 40 {
+			return "delete from " + r.Name
+		}
+	}
+	return text
 }
 
 // history of one database and its model: counts, of each kind of statement, how often each error came.
 func history(t *testing.T, seed int64, count map[[2]int]int) {
 	t.Helper()
 	m := &maker{r: rand.New(rand.NewSource(seed))}
-	d, by := disk.New(), &model{}
+	d, by := disk.New(), newModel()
 	c := opened(t, d, 8+m.r.Intn(10)).Session()
 	for range 120 {
-		m.tables = by.tables()
-		text := m.statement()
-		if !m.fits(by.data) {
-			text = "delete from " + by.data[slices.IndexFunc(by.data, func(x api.Data) bool { return len(x.Rows) > 40 })].Table.Name
-		}
+		text := m.bounded(by, m.statement)
 		l, e, _ := sql.Parse(text)
 		if e != api.OK || len(l) != 1 {
 			t.Fatalf("%s: %v", text, e)
@@ -278,7 +333,7 @@ func history(t *testing.T, seed int64, count map[[2]int]int) {
 			c = opened(t, d, 8+m.r.Intn(10)).Session()
 		}
 	}
-	for _, x := range by.data {
+	for _, x := range by.data() {
 		got := results(t, c, "select * from "+x.Table.Name)
 		slices.SortFunc(x.Rows, rowsOrder)
 		if showRows(got[0].Rows) != showRows(x.Rows) {

@@ -48,10 +48,24 @@ func TestRoom(t *testing.T) {
 		doesAll(t, c, pair{x.makes, run("0 ", len(results(t, fresh(t), x.makes)))[:2*len(results(t, fresh(t), x.makes))-1]}, pair{insert, all})
 		c = opened(t, twin(t, d), api.MaxFrames).Session()
 		does(t, c, "select count(*) from t; select count(*) from n", count+" [10]")
+		roomInTransaction(t, d, insert, x.turns, all)
 		if t.Failed() {
 			t.Fatal(name)
 		}
 	}
+}
+
+// roomInTransaction: all rows go, come again and are turned in one transaction, while another one sees them as they were.
+func roomInTransaction(t *testing.T, d *disk.Disk, insert, turns, all string) {
+	t.Helper()
+	s := opened(t, d, api.MinFrames)
+	a, b := s.Session(), s.Session()
+	count := "[" + all + "]"
+	does(t, b, "begin; select count(*) from t", "0 "+count)
+	doesAll(t, a, pair{"begin; delete from t; savepoint s", "0 " + all + " 0"}, pair{insert, all}, pair{"rollback to s; select count(*) from t", "0 [0]"}, pair{insert, all}, pair{"update t set " + turns, all}, pair{"select count(*) from t; commit", count + " 0"})
+	does(t, b, "select count(*) from t; delete from t; commit", count+" "+all+" Conflict")
+	does(t, b, "select count(*) from t", count)
+	does(t, opened(t, twin(t, d), api.MinFrames).Session(), "select count(*) from t", count)
 }
 
 // As many tables and indexes as there is always room for.

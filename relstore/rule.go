@@ -17,9 +17,16 @@ func (w *work) obey(t table, turns []turn) {
 	refuse(slices.ContainsFunc(rows, t.lacks), api.ErrNull)
 	refuse(t.breaksCheck(rows), api.ErrCheck)
 	refuse(slices.ContainsFunc(rows, t.tooLarge), api.ErrLarge)
-	for _, o := range t.orders {
-		refuse(o.unique && w.twice(o, turns), api.ErrUnique)
+	unique := t.uniqueOrders()
+	for _, o := range unique {
+		w.read.alike(t, o, rows)
 	}
+	refuse(slices.ContainsFunc(unique, func(o order) bool { return w.twice(o, turns) }), api.ErrUnique)
+}
+
+// uniqueOrders of a table: those in which no two rows may be alike.
+func (t table) uniqueOrders() []order {
+	return slices.DeleteFunc(slices.Clone(t.orders), func(o order) bool { return !o.unique })
 }
 
 // becoming: the rows that come or are turned, as they become.

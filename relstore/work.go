@@ -3,61 +3,18 @@ package relstore
 import (
 	"relstore/api"
 	"relstore/bind"
-	"relstore/mvcc"
 )
-
-// work of a statement, in a transaction.
-type work struct {
-	*Store
-	tx *mvcc.Tx
-}
-
-// result of a statement.
-func (c *Session) result(s api.Stmt) api.Result {
-	var r api.Result
-	if e := caught(func() { r = c.do(s) }); e != api.OK {
-		return api.Result{Kind: s.Kind, Err: e}
-	}
-	r.Kind = s.Kind
-	return r
-}
-
-// do a statement.
-func (c *Session) do(s api.Stmt) api.Result {
-	switch s.Kind {
-	case api.Begin, api.Commit, api.Rollback, api.Savepoint, api.Release:
-		// There is no transaction but that of each statement.
-		panic(fault{api.ErrState})
-	case api.Checkpoint:
-		check(c.store.data.Checkpoint())
-		return api.Result{}
-	}
-	return c.store.alone(s)
-}
-
-// alone: a statement that is a transaction of its own.
-func (s *Store) alone(t api.Stmt) api.Result {
-	w := &work{s, s.data.Begin()}
-	var r api.Result
-	e := caught(func() { r = w.do(t) })
-	if e != api.OK {
-		w.tx.Rollback()
-		panic(fault{e})
-	}
-	check(w.tx.Commit())
-	return r
-}
 
 // do a statement that asks for tables or turns them.
 func (w *work) do(s api.Stmt) api.Result {
 	tables := w.tablesOf(s)
-	if s.Kind == api.Query {
-		// The answer has the errors of what it means, too.
+	l, e := bind.Readings(definitions(tables), s)
+	check(e)
+	w.read.meeting(tables, l)
+	switch s.Kind {
+	case api.Query:
 		answer := w.answer(tables, s.Query[0])
 		return api.Result{Columns: answer.Columns, Rows: answer.Rows}
-	}
-	check(bind.Check(definitions(tables), s))
-	switch s.Kind {
 	case api.Insert:
 		return api.Result{Count: w.insert(tables, s)}
 	case api.Update:
