@@ -3,6 +3,7 @@ package relstore_test
 import (
 	"math/rand"
 	"slices"
+	"strconv"
 	"testing"
 
 	"relstore/api"
@@ -229,4 +230,57 @@ func sessionHistory(t testing.TB, seed int64, count map[string]int) {
 		t.Fatalf("seed %d: something else is left", seed)
 	}
 	p.again()
+}
+
+// transfer of an amount between two accounts, as a transaction.
+type transfer struct {
+	c    *relstore.Session
+	left []string // what is to be told yet
+}
+
+// P23: many sessions that overlap, over more pages than are in memory: what is moved from account to account is never lost, and nobody sees just half of it.
+func TestTransfers(t *testing.T) {
+	t.Parallel()
+	const accounts, each = 120, 50
+	r := rand.New(rand.NewSource(5))
+	d := disk.New()
+	s := opened(t, d, 8)
+	c := s.Session()
+	digits(t, c)
+	does(t, c, "create table acc (id integer primary key, bal integer not null check (bal >= 0), pad text); create index b on acc (bal); insert into acc select x.a + 10 * y.a + 100 * z.a, 50, '"+run("p", 400)+"' from n x, n y, n z where z.a < 2 and x.a + 10 * y.a + 100 * z.a < 120", "0 0 120")
+	all := "[" + strconv.Itoa(accounts*each) + "]"
+	var open []*transfer
+	for range 25 {
+		open = append(open, &transfer{c: s.Session()})
+	}
+	count := map[string]int{}
+	for range 4000 {
+		x := pick(&maker{r: r}, open...)
+		if len(x.left) == 0 {
+			i, j, n := strconv.Itoa(r.Intn(accounts)), strconv.Itoa(r.Intn(accounts)), strconv.Itoa(r.Intn(40))
+			x.left = []string{"begin", "update acc set bal = bal - " + n + " where id = " + i, "update acc set bal = bal + " + n + " where id = " + j, "commit"}
+			if r.Intn(12) == 0 {
+				x.left = []string{"begin", "select sum(bal) from acc", "select count(*) from acc where bal = 50", "select sum(bal) from acc", "commit"}
+			}
+		}
+		text := x.left[0]
+		x.left = x.left[1:]
+		got := told(results(t, x.c, text))
+		switch {
+		case got == "Check":
+			results(t, x.c, "rollback")
+			x.left = nil
+			count[got]++
+		case text == "commit":
+			count[got]++
+		case text == "select sum(bal) from acc" && got != all:
+			t.Fatalf("%s: %s", text, got)
+		}
+	}
+	if count["0"] < 300 || count["Conflict"] < 50 || count["Check"] < 20 {
+		t.Errorf("%v", count)
+	}
+	does(t, c, "select sum(bal) from acc; select count(*) from acc", all+" [120]")
+	does(t, opened(t, twin(t, d), 8).Session(), "select sum(bal) from acc; select count(*) from acc", all+" [120]")
+	sound(t, d)
 }
